@@ -1,0 +1,1 @@
+"""Allworlds: nets of chances, answered exactly with papers."""

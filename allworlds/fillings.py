@@ -1,0 +1,39 @@
+"""Fillings: tuples with a case for each of some things."""
+
+
+def fill_count(counts):
+    """How many fillings there are of things with so many cases each."""
+    many = 1
+    for count in counts:
+        many = many * count
+    return many
+
+
+def fillings_of(counts):
+    """All fillings, ascending."""
+    fillings = [()]
+    for count in counts:
+        fillings = [filling + (case,) for filling in fillings for case in range(count)]
+    return tuple(fillings)
+
+
+def filling_number(counts, filling):
+    """The index of a filling among all, ascending."""
+    number = 0
+    for count, case in zip(counts, filling):
+        number = number * count + case
+    return number
+
+
+def filling_at(counts, number):
+    """The filling with an index among all, ascending."""
+    cases = []
+    for count in reversed(counts):
+        cases.append(number % count)
+        number = number // count
+    return tuple(cases[::-1])
+
+
+def at_places(filling, places):
+    """The cases of a filling at some places, in their sequence."""
+    return tuple([filling[place] for place in places])
