@@ -1,0 +1,71 @@
+"""The interface: which file defines what, and the names of the parameters."""
+
+import ast
+import doctest
+import importlib
+import inspect
+import os
+import unittest
+
+import allworlds
+
+# For each module the functions and classes with their parameters.
+INTERFACE = {
+    "blockers": "least_blockers(lots)",
+    "errors": """NetError InvalidNet(at) InvalidText(line,at) InvalidNews(at) InvalidClaim(at) InvalidTable(at)
+        InvalidTree(at) InvalidPaper(at) InvalidNumber(word) Refused(word)""",
+    "fillings": """fill_count(counts) fillings_of(counts) filling_number(counts,filling) filling_at(counts,number)
+        at_places(filling,places)""",
+    "lexer": "marks_of(text)",
+    "numbers": """is_fraction(value) fraction_of(top,bottom) added(one,other) taken(one,other) timed(one,other)
+        divided(one,other) is_less(one,other) total_of_all(fractions) product_of_all(fractions)
+        common_bottom(fractions) scaled_to_one(weights)""",
+    "nets": """Net(things) names_of(net) counts_of(net) number_of(net,name) parents_of(net,thing) children_of(net,thing)
+        family_of(net,thing) older_lot(net,things) younger_lot(net,things) row_for(net,thing,filling)
+        chance_at(net,thing,world) check_news(net,value) finding(net,thing,case) weights_in(net,news,thing)
+        joined_news(one,other) subnet(net,lot) renamed(net,names) with_rows(net,thing,rows)""",
+    "arrows": "heard_news(net,news) told_pairs(net,news) is_idle(net,thing,parent) lean_net(net) cut_net(net,news)",
+    "chains": """Chain(start,steps,shows) check_seen(chain,value) chain_net(chain,many) forward_weights(chain,seen)
+        backward_weights(chain,seen) chain_total(chain,seen) filtered_shares(chain,seen)
+        smoothed_shares(chain,seen,moment) foretold_shares(chain,seen,ahead) foretold_signs(chain,seen,ahead)""",
+    "orders": "is_order(net,value) order_count(net) reordered(net,order)",
+    "printer": "show_fraction(fraction) show_net(net) show_news(net,news) show_claim(net,claim)",
+    "sequences": """scopes_in(net) scopes_without(scopes,lot) is_sequence(lot,value) scopes_left(scopes,sequence)
+        cluster_behind(scopes,before,thing) clusters_by(scopes,sequence) lot_size(counts,lot)
+        sizes_by(counts,scopes,sequence) cost_by(counts,scopes,sequence,kind) flows_by(scopes,sequence)
+        settled_sequence(scopes,sequence) greedy_sequence(counts,scopes,lot)""",
+    "ties": """things_in(lots) ties_within(lots) married_ties(net) tied_to(ties,thing) made_lots(ties,sequence)
+        filled_ties(ties,sequence) is_smooth(ties,sequence) smooth_sequence(ties,things) bare_loop(ties)
+        thin_ties(ties,filled)""",
+    "worlds": """world_count(net) worlds_of(net) is_world(net,value) world_share(net,world) news_weight(net,news,world)
+        weighted_worlds(net,news)""",
+    "claims": """check_claim(net,value) parts_of_claim(claim) things_of_claim(claim) holds(claim,world)
+        without_not(net,claim,*,turned=False) parting_world(net,one,other)""",
+    "trees": """cut_of(shape,number) runs_through(shape) check_tree(net,value) is_tree(net,value)
+        children_in(tree,number) below_lot(tree,number) cluster_way(tree,one,other) sides_of(tree,number)
+        holder_of(tree,lot) homes_of(net,tree) are_homes(net,tree,value) tree_size(net,tree)""",
+}
+
+
+class TestInterface(unittest.TestCase):
+    def test_all(self):
+        for name, listed in INTERFACE.items():
+            module = importlib.import_module("allworlds." + name)
+            file = os.path.join(os.path.dirname(allworlds.__file__), name + ".py")
+            with open(file, encoding="ascii") as source:
+                tree = ast.parse(source.read())
+            own = {node.name for node in tree.body if isinstance(node, (ast.FunctionDef, ast.ClassDef))}
+            for item in listed.split():
+                word, _, told = item.partition("(")
+                self.assertIn(word, own)
+                if told:
+                    signature = str(inspect.signature(getattr(module, word))).replace(" ", "")
+                    self.assertEqual(signature, "(" + told)
+
+    def test_readme(self):
+        readme = os.path.join(os.path.dirname(os.path.dirname(allworlds.__file__)), "README.md")
+        self.assertEqual(doctest.testfile(readme, module_relative=False).failed, 0)
+
+
+if __name__ == "__main__":
+    unittest.main()
