@@ -1,7 +1,7 @@
 """Arrows from parents to children, and which of them matter."""
 
 from allworlds.fillings import at_places, fillings_of
-from allworlds.nets import Net, parent_counts
+from allworlds.nets import Net, parent_counts, parents_of
 
 
 def heard_news(net, news):
@@ -23,10 +23,9 @@ def told_pairs(net, news):
 
 def is_idle(net, thing, parent):
     """Whether the rows of a thing are the same for all cases of a parent."""
-    _, _, parents, rows = net.things[thing]
-    place = parents.index(parent)
+    place = parents_of(net, thing).index(parent)
     first = {}
-    for filling, row in zip(fillings_of(parent_counts(net, thing)), rows):
+    for filling, row in zip(fillings_of(parent_counts(net, thing)), net.things[thing][3]):
         if first.setdefault(filling[:place] + filling[place + 1:], row) != row:
             return False
     return True

@@ -1,6 +1,6 @@
 """Hidden chains: cases that follow one another, and signs that they show."""
 
-from allworlds.errors import InvalidNews, InvalidNumber, InvalidTable, Refused
+from allworlds.errors import InvalidNews, InvalidNumber, InvalidTable
 from allworlds.kinds import is_below, is_number
 from allworlds.nets import Net
 from allworlds.numbers import common_bottom, fraction_of, scaled_tops, tops_over
@@ -146,9 +146,6 @@ def foretold_tops(chain, seen, ahead):
         raise InvalidNumber("ahead")
     steps, _ = whole_rows(chain.steps)
     tops = forward_tops(chain, seen)[-1][0]
-    # Without a course there is no need to go ahead.
-    if not any(tops):
-        raise Refused("barred")
     for _ in range(ahead):
         tops = carried(steps, tops)
     return tops

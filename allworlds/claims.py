@@ -137,7 +137,7 @@ def case_bits(counts, place, cases):
     bits = sum([((1 << behind) - 1) << (case * behind) for case in cases])
     # What the later things make is repeated for each filling of those before.
     width = behind * counts[place]
-    for count in reversed(counts[:place]):
+    for count in counts[:place]:
         bits = sum([bits << (k * width) for k in range(count)])
         width = width * count
     return bits

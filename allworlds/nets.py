@@ -184,7 +184,6 @@ def renamed(net, names):
 
 def with_rows(net, thing, rows):
     """The net with other rows of a thing; rows may be any value."""
-    name, count, parents, _ = net.things[thing]
-    if not are_rows(rows, fill_count(parent_counts(net, thing)), count):
-        raise InvalidNet(thing)
-    return Net(net.things[:thing] + ((name, count, parents, rows),) + net.things[thing + 1:])
+    # All else is right, so Net raises InvalidNet for this thing or not at all.
+    changed = net.things[thing][:3] + (rows,)
+    return Net(net.things[:thing] + (changed,) + net.things[thing + 1:])

@@ -111,6 +111,7 @@ class TestParts(unittest.TestCase):
         self.assertEqual(parts_of_claim(A), (A,))
         self.assertEqual(things_of_claim(claim), (0, 1, 2))
         self.assertEqual(things_of_claim(("and", B, ("not", B))), (1,))
+        self.assertEqual(things_of_claim(("and", *[("is", thing, ()) for thing in (17, 3, 16, 8, 1, 23)])), (1, 3, 8, 16, 17, 23))
 
     def test_holds(self):
         self.assertIs(holds(A, (0, 0, 0)), True)

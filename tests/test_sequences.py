@@ -90,6 +90,11 @@ class TestScopes(unittest.TestCase):
         self.assertEqual(cluster_behind(((), (3,)), (1,), 3), (3,))
         self.assertEqual(cluster_behind(((3, 4), (4, 5)), (4, 2), 3), (3, 5))
 
+    def test_ascending(self):
+        scopes = ((8, 17, 23), (1, 8, 16))
+        self.assertEqual(cluster_behind(scopes, (), 8), (1, 8, 16, 17, 23))
+        self.assertEqual(scopes_left(scopes, (8,)), ((1, 16, 17, 23),))
+
     def test_cluster_drawn(self):
         for rng in drawn(150, 29):
             scopes = draw_scopes(rng)

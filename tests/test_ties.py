@@ -80,6 +80,8 @@ class TestTies(unittest.TestCase):
         self.assertEqual(things_in(((), ())), ())
         self.assertEqual(ties_within(((0, 3, 5), (), (7,), (3, 5))), ((0, 3), (0, 5), (3, 5)))
         self.assertEqual(ties_within(()), ())
+        self.assertEqual(things_in(((8, 16, 17), (1, 23))), (1, 8, 16, 17, 23))
+        self.assertEqual(ties_within(((8, 16, 17), (1, 23), (0, 8))), ((0, 8), (1, 23), (8, 16), (8, 17), (16, 17)))
         self.assertEqual(tied_to(SQUARE, 1), (0, 2))
         self.assertEqual(tied_to(SQUARE, 9), ())
         self.assertEqual(tied_to((), 0), ())

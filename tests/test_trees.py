@@ -165,6 +165,8 @@ class TestInTrees(unittest.TestCase):
         self.assertEqual(sides_of(TREE, 1), ((3,), (1,)))
         self.assertEqual(sides_of(TREE, 2), ((), (0, 2, 3)))
         self.assertEqual(sides_of(TREE, 3), ((), (0, 1, 2, 3)))
+        self.assertEqual(sides_of((((8, 9, 16), (8, 17, 24)), (-1, 0)), 1), ((17, 24), (9, 16)))
+        self.assertEqual(sides_of((((8, 17, 24), (8, 9, 16)), (-1, 0)), 1), ((9, 16), (17, 24)))
 
     def test_ways_drawn(self):
         for rng in drawn(60, 42):
