@@ -140,15 +140,19 @@ def smoothed_shares(chain, seen, moment):
     return scaled_tops([one * other for one, other in zip(ahead, behind)])
 
 
-def foretold_tops(chain, seen, ahead):
-    """The weights of the cases so many moments later, as whole numbers; ahead may be any value."""
+def tops_ahead(chain, tops, ahead):
+    """Whole weights of the cases so many moments after those of now; ahead may be any value."""
     if not is_number(ahead):
         raise InvalidNumber("ahead")
     steps, _ = whole_rows(chain.steps)
-    tops = forward_tops(chain, seen)[-1][0]
     for _ in range(ahead):
         tops = carried(steps, tops)
     return tops
+
+
+def foretold_tops(chain, seen, ahead):
+    """The weights of the cases so many moments later, as whole numbers; ahead may be any value."""
+    return tops_ahead(chain, forward_tops(chain, seen)[-1][0], ahead)
 
 
 def foretold_shares(chain, seen, ahead):

@@ -37,3 +37,17 @@ def filling_at(counts, number):
 def at_places(filling, places):
     """The cases of a filling at some places, in their sequence."""
     return tuple([filling[place] for place in places])
+
+
+def places_by(things, counts, lot):
+    """For each filling of things in a sequence, ascending, the index of its cases of a lot of them."""
+    steps = {}
+    step = 1
+    for thing in reversed(lot):
+        steps[thing] = step
+        step = step * counts[things.index(thing)]
+    places = [0]
+    for thing, count in zip(things, counts):
+        step = steps.get(thing, 0)
+        places = [place + case * step for place in places for case in range(count)]
+    return places

@@ -27,16 +27,21 @@ def is_name(value):
     return all(["a" <= sign <= "z" for sign in value])
 
 
-def is_lot_below(value, bound):
-    """Whether any value is a lot of numbers below a bound."""
+def is_lot(value):
+    """Whether any value is a lot of numbers."""
     if not isinstance(value, tuple):
         return False
     last = -1
     for item in value:
-        if not is_below(item, bound) or item <= last:
+        if not is_integer(item) or item <= last:
             return False
         last = item
     return True
+
+
+def is_lot_below(value, bound):
+    """Whether any value is a lot of numbers below a bound."""
+    return is_lot(value) and (not value or value[-1] < bound)
 
 
 def has_each_once(value, lot):

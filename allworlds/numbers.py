@@ -67,6 +67,13 @@ def tops_over(fractions, bottom):
     return [top * (bottom // below) for top, below in fractions]
 
 
+def order_keys(fractions):
+    """Integers in the order of some fractions, equal ones for equal fractions."""
+    # Two unlike fractions are further apart than 1 by the product of their bottoms.
+    shift = 2 * max([bottom for _, bottom in fractions], default=1).bit_length()
+    return [(top << shift) // bottom for top, bottom in fractions]
+
+
 def total_of_all(fractions):
     """The sum of a tuple or list of fractions."""
     bottom = common_bottom(fractions)

@@ -3,7 +3,7 @@
 import unittest
 from itertools import product
 
-from allworlds.fillings import at_places, fill_count, filling_at, filling_number, fillings_of
+from allworlds.fillings import at_places, fill_count, filling_at, filling_number, fillings_of, places_by
 
 
 class TestFillings(unittest.TestCase):
@@ -36,6 +36,15 @@ class TestFillings(unittest.TestCase):
         self.assertEqual(at_places((5, 6, 7), [1, 1]), (6, 6))
         self.assertEqual(at_places((5, 6, 7), ()), ())
         self.assertEqual(at_places(filling=(), places=[]), ())
+
+    def test_places_by(self):
+        things, counts = (4, 1, 7), (2, 3, 2)
+        for lot in ((), (1,), (1, 4), (4, 7), (1, 4, 7)):
+            own = [counts[things.index(thing)] for thing in lot]
+            told = [
+                filling_number(own, [filling[things.index(thing)] for thing in lot]) for filling in fillings_of(counts)]
+            self.assertEqual(places_by(things, counts, lot), told)
+        self.assertEqual(places_by((), (), ()), [0])
 
 
 if __name__ == "__main__":

@@ -44,6 +44,28 @@ INTERFACE = {
     "trees": """cut_of(shape,number) runs_through(shape) check_tree(net,value) is_tree(net,value)
         children_in(tree,number) below_lot(tree,number) cluster_way(tree,one,other) sides_of(tree,number)
         holder_of(tree,lot) homes_of(net,tree) are_homes(net,tree,value) tree_size(net,tree)""",
+    "widths": """is_free(scopes,before,thing) free_first(scopes,lot) core_floor(counts,scopes,lot)
+        least_sequence(counts,scopes,lot,kind) is_least_sequence(counts,scopes,lot,kind,value)
+        least_width(counts,scopes,lot)""",
+    "windows": "Window(chain,size)",
+    "growing": """tree_of_ties(ties,things) tree_of(net,sequence) thin_tree(net,sequence) joined_tree(lots) smaller_tree(tree)
+        turned_tree(tree,number) widened_tree(tree,number,lot)""",
+    "plain": """plain_total(net,news) plain_sums(net,news,lot) plain_share(net,news,claim) plain_shares(net,news,lot)
+        plain_best(net,news,many) plain_best_in(net,news,lot,many) plain_lift(net,news,claim,other)
+        are_unbound(net,news,one,other)""",
+    "routes": """neighbours_in(tree,number) steps_to(tree,goal) steps_from(tree,start) steps_joining(tree,lot,goal)
+        steps_into(tree,step) side_of(tree,step)""",
+    "tables": """Table(things,counts,entries) table_fault(value) is_table(value) check_table(value) one_table()
+        counts_in(net,things) table_of(net,thing) table_of_news(net,news,thing) claim_table(net,claim)
+        entry_at(table,filling) entry_in(table,world)""",
+    "courses": """course_share(chain,seen,course) best_courses(chain,seen,many) CoursePaper(courses,heights)
+        course_paper(chain,seen,many) is_course_paper(chain,seen,many,value)""",
+    "reader": """read_net(text) read_news(net,text) read_claim(net,text) completed_net(text) completed_news(net,text)
+        completed_claim(net,text)""",
+}
+# The methods that are listed for classes, with their parameters; each stands in the class itself.
+METHODS = {
+    ("windows", "Window"): "come(self,sign) moments(self) now(self) ago(self,moments) ahead(self,moments) tail(self)",
 }
 
 
@@ -61,6 +83,13 @@ class TestInterface(unittest.TestCase):
                 if told:
                     signature = str(inspect.signature(getattr(module, word))).replace(" ", "")
                     self.assertEqual(signature, "(" + told)
+
+    def test_methods(self):
+        for (module, name), listed in METHODS.items():
+            own = vars(getattr(importlib.import_module("allworlds." + module), name))
+            for item in listed.split():
+                word, _, told = item.partition("(")
+                self.assertEqual(str(inspect.signature(own[word])).replace(" ", ""), "(" + told)
 
     def test_readme(self):
         readme = os.path.join(os.path.dirname(os.path.dirname(allworlds.__file__)), "README.md")

@@ -16,7 +16,7 @@ BUILTINS = set("""len range enumerate zip min max sum abs sorted reversed int st
 METHODS = set("""append clear copy count endswith extend find get index insert isalnum isalpha isdigit islower isspace
     isupper items join keys ljust lower lstrip partition pop remove replace reverse rfind rjust rpartition rsplit rstrip
     setdefault split splitlines startswith strip update upper values zfill bit_length add discard""".split())
-LIBRARY = {"math": {"gcd", "lcm", "isqrt", "comb", "perm", "factorial"}}
+LIBRARY = {"math": {"gcd", "lcm", "isqrt", "comb", "perm", "factorial"}, "heapq": {"heappop", "heappush"}}
 NOWHERE = re.compile(r"\b(register|mro|elements|open|input|law|version_info|with_traceback|add_note|type|typing|enum|Enum|"
                      r"Generic|Protocol|ABC|namedtuple|NamedTuple|TypedDict|_wall|copyright|credits|eval|exec|exit|gc|"
                      r"globals|help|id|locals|os|quit|super|vars|global|async|await|lambda_)\b")

@@ -7,8 +7,8 @@ from math import lcm
 from allworlds import numbers
 from allworlds.errors import InvalidNumber, Refused
 from allworlds.numbers import (
-    ONE, ZERO, added, common_bottom, divided, fraction_of, is_fraction, is_less, product_of_all, scaled_to_one,
-    taken, timed, total_of_all,
+    ONE, ZERO, added, common_bottom, divided, fraction_of, is_fraction, is_less, order_keys, product_of_all,
+    scaled_to_one, taken, timed, total_of_all,
 )
 from tests.drawn import NO_INTEGERS, NO_TUPLES, drawn, nest, pair_of, plain
 
@@ -97,6 +97,15 @@ class TestReckoning(unittest.TestCase):
             with self.assertRaises(Refused) as caught:
                 scaled_to_one(barred)
             self.assertEqual(caught.exception.word, "barred")
+
+    def test_order_keys(self):
+        close = [(999999, 1000000), (999998, 999999), (-1, 10 ** 6), (0, 1), (1, 10 ** 6), (1, 1), (10 ** 50, 1)]
+        for rng in drawn(60, 4):
+            some = [draw_fraction(rng) for _ in range(rng.randint(0, 8))] + rng.sample(close, rng.randint(0, 7))
+            keys = order_keys(some)
+            for one, key in zip(some, keys, strict=True):
+                for other, beside in zip(some, keys):
+                    self.assertEqual((key < beside, key == beside), (plain(one) < plain(other), one == other))
 
     def test_arguments_stay(self):
         some = [(1, 2), (1, 3)]
