@@ -7,17 +7,25 @@ from allworlds.nets import counts_of
 from allworlds.worlds import MOST
 
 
-def check_claim(net, value):
-    """Raise InvalidClaim for any value that is no claim about the net."""
+def claim_fault(net, value):
+    """The number of the first part of any value that is no claim about the net, or None."""
     waiting = [value]
     at = 0
     while waiting:
         part = waiting.pop()
         if not has_claim_form(net, part):
-            raise InvalidClaim(at)
+            return at
         # The first claim of a part comes next, so it must lie on top.
         waiting.extend(claims_in(part)[::-1])
         at += 1
+    return None
+
+
+def check_claim(net, value):
+    """Raise InvalidClaim for any value that is no claim about the net."""
+    at = claim_fault(net, value)
+    if at is not None:
+        raise InvalidClaim(at)
 
 
 def has_claim_form(net, value):

@@ -39,14 +39,19 @@ def at_places(filling, places):
     return tuple([filling[place] for place in places])
 
 
-def places_by(things, counts, lot):
-    """For each filling of things in a sequence, ascending, the index of its cases of a lot of them."""
+def steps_by(things, counts):
+    """For each of some things, how far apart the indexes of fillings are if its case is one more."""
     steps = {}
     step = 1
-    for thing in reversed(lot):
-        steps[thing] = step
-        step = step * counts[things.index(thing)]
-    places = [0]
+    for place in reversed(range(len(things))):
+        steps[things[place]] = step
+        step = step * counts[place]
+    return steps
+
+
+def places_by(things, counts, steps, first=0):
+    """For each filling of some things, ascending, the index to which it leads by steps, from a first one on."""
+    places = [first]
     for thing, count in zip(things, counts):
         step = steps.get(thing, 0)
         places = [place + case * step for place in places for case in range(count)]

@@ -36,7 +36,7 @@ class RowsReading:
         """A mark that can follow, if these are no such rows yet."""
         return "," if self.row.is_whole() else self.row.next_mark()
 
-    def rows(self):
+    def result(self):
         """The rows, if they are whole."""
         return tuple(self.done) + (self.row.fractions(),)
 
@@ -116,7 +116,7 @@ class NetReading:
     def last_thing(self):
         """The thing of the line that is read, its parents and rows ascending."""
         parents = sorted(self.parents)
-        told = self.rows.rows()
+        told = self.rows.result()
         places = [parents.index(parent) for parent in self.parents]
         counts = self.parent_counts(self.parents)
         rows = [

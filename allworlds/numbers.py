@@ -67,6 +67,24 @@ def tops_over(fractions, bottom):
     return [top * (bottom // below) for top, below in fractions]
 
 
+def greatest_of(fractions):
+    """The greatest of one or more fractions."""
+    best = fractions[0]
+    for fraction in fractions:
+        if is_less(best, fraction):
+            best = fraction
+    return best
+
+
+def least_of(fractions):
+    """The least of one or more fractions."""
+    best = fractions[0]
+    for fraction in fractions:
+        if is_less(fraction, best):
+            best = fraction
+    return best
+
+
 def order_keys(fractions):
     """Integers in the order of some fractions, equal ones for equal fractions."""
     # Two unlike fractions are further apart than 1 by the product of their bottoms.

@@ -2,7 +2,7 @@
 
 from allworlds.claims import holding_bits, things_of_claim
 from allworlds.errors import Refused
-from allworlds.fillings import at_places, fill_count, fillings_of, places_by
+from allworlds.fillings import at_places, fill_count, fillings_of, places_by, steps_by
 from allworlds.numbers import divided, order_keys, scaled_to_one, taken, timed, total_of_all
 from allworlds.tables import counts_in
 from allworlds.worlds import weighted_worlds
@@ -83,8 +83,8 @@ def are_unbound(net, news, one, other):
     total = known_total(sums)
     ones = plain_sums(net, news, one)
     others = plain_sums(net, news, other)
-    places = places_by(lot, counts, one)
-    beside = places_by(lot, counts, other)
+    places = places_by(lot, counts, steps_by(one, counts_in(net, one)))
+    beside = places_by(lot, counts, steps_by(other, counts_in(net, other)))
     return all([
         timed(sums[number], total) == timed(ones[places[number]], others[beside[number]])
         for number in range(fill_count(counts))

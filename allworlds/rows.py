@@ -1,6 +1,11 @@
 """Rows of fractions and weights: which values are some."""
 
-from allworlds.numbers import common_bottom, is_fraction, tops_over
+from allworlds.numbers import ONE, common_bottom, is_fraction, is_less, tops_over
+
+
+def is_bar(value):
+    """Whether any value is a fraction from 0 to 1."""
+    return is_fraction(value) and value[0] >= 0 and not is_less(ONE, value)
 
 
 def are_from_zero(value, many):

@@ -3,7 +3,7 @@
 import unittest
 from itertools import product
 
-from allworlds.fillings import at_places, fill_count, filling_at, filling_number, fillings_of, places_by
+from allworlds.fillings import at_places, fill_count, filling_at, filling_number, fillings_of, places_by, steps_by
 
 
 class TestFillings(unittest.TestCase):
@@ -43,8 +43,10 @@ class TestFillings(unittest.TestCase):
             own = [counts[things.index(thing)] for thing in lot]
             told = [
                 filling_number(own, [filling[things.index(thing)] for thing in lot]) for filling in fillings_of(counts)]
-            self.assertEqual(places_by(things, counts, lot), told)
-        self.assertEqual(places_by((), (), ()), [0])
+            steps = steps_by(lot, own)
+            self.assertEqual(places_by(things, counts, steps), told)
+            self.assertEqual(places_by(things, counts, steps, 5), [place + 5 for place in told])
+        self.assertEqual(places_by((), (), {}), [0])
 
 
 if __name__ == "__main__":

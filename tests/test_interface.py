@@ -60,6 +60,24 @@ INTERFACE = {
         entry_at(table,filling) entry_in(table,world)""",
     "courses": """course_share(chain,seen,course) best_courses(chain,seen,many) CoursePaper(courses,heights)
         course_paper(chain,seen,many) is_course_paper(chain,seen,many,value)""",
+    "sums": """product_of(tables) added_tables(tables) widened(table,things,counts) scaled_table(table,factor)
+        summed_out(table,things) summed_to(table,things) total_of(table) at_case(table,thing,case) quotient_of(one,other)
+        shares_within(table,things) shares_table(table)""",
+    "extremes": """greatest_out(table,things) least_out(table,things) greatest_filling(table) least_filling(table)
+        behind_greatest(table,things,filling) ranked_fillings(table)""",
+    "messages": """own_table(net,news,tree,homes,cluster) own_tables(net,news,tree,homes) up_message(tree,owns,up,cluster)
+        down_message(tree,owns,up,down,cluster) upward(tree,owns) downward(tree,owns,up)""",
+    "eliminating": """eliminated(tables,sequence,greatest=False) tables_by(net,news) claim_tables(net,claim)
+        weight_by(net,news,claim,sequence,fixed=()) share_by(net,news,claim,sequence) shares_by(net,news,lot,sequence)
+        greatest_weight(net,news,lot,sequence)""",
+    "reasons": """check_question(net,value) answer_of(net,question) margin_of(net,question,filling)
+        is_turning(net,question,filling) worst_filling(net,question,lot) is_reason(net,question,value)
+        smaller_reason(net,question,lot) least_reasons(net,question) Reason(lot,sequence,messages)
+        reason_paper(net,question,lot) is_reason_paper(net,question,value)""",
+    "turns": """changes_in(question,filling) single_turns(net,question) is_turning_lot(net,question,value)
+        turn_at(net,question,lot) least_turns(net,question) cheapest_turn(net,question,costs) stand_count(net,question)
+        TurnPaper(cost,filling,tree) turn_paper(net,question,costs) is_turn_paper(net,question,costs,value)""",
+    "scripts": "is_command(net,value) read_script(net,text) show_command(net,command) show_script(net,commands)",
     "reader": """read_net(text) read_news(net,text) read_claim(net,text) completed_net(text) completed_news(net,text)
         completed_claim(net,text)""",
 }

@@ -7,8 +7,8 @@ from math import lcm
 from allworlds import numbers
 from allworlds.errors import InvalidNumber, Refused
 from allworlds.numbers import (
-    ONE, ZERO, added, common_bottom, divided, fraction_of, is_fraction, is_less, order_keys, product_of_all,
-    scaled_to_one, taken, timed, total_of_all,
+    ONE, ZERO, added, common_bottom, divided, fraction_of, greatest_of, is_fraction, is_less, least_of, order_keys,
+    product_of_all, scaled_to_one, taken, timed, total_of_all,
 )
 from tests.drawn import NO_INTEGERS, NO_TUPLES, drawn, nest, pair_of, plain
 
@@ -103,6 +103,9 @@ class TestReckoning(unittest.TestCase):
         for rng in drawn(60, 4):
             some = [draw_fraction(rng) for _ in range(rng.randint(0, 8))] + rng.sample(close, rng.randint(0, 7))
             keys = order_keys(some)
+            if some:
+                self.assertEqual(plain(greatest_of(some)), max(plain(item) for item in some))
+                self.assertEqual(plain(least_of(tuple(some))), min(plain(item) for item in some))
             for one, key in zip(some, keys, strict=True):
                 for other, beside in zip(some, keys):
                     self.assertEqual((key < beside, key == beside), (plain(one) < plain(other), one == other))
