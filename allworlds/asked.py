@@ -20,13 +20,13 @@ class Asked:
         for thing in easy_sequence(self.counts, parts, things_untold(net, self.found)):
             parts = left_out_of(self.counts, parts, thing, False)
         self.parts = parts
+        self.sequence = easy_sequence(self.counts, parts, self.told)
         margin = self.margin_at(self.found)
         if margin[1][0] == 0:
             raise Refused("barred")
         self.answer = margin[0][0] >= 0
         if not self.answer:
             self.parts = [turned_part(part) for part in parts]
-        self.sequence = easy_sequence(self.counts, parts, self.told)
 
     def margin_at(self, fixed):
         """The least margin of all fillings of the told things with the cases of a dict for some of them."""
@@ -47,11 +47,12 @@ class Asked:
 
     def reason_within(self, lot):
         """The reason within a reason that is left if each thing that can be is left out, ascending."""
+        left = lot
         for thing in lot:
-            less = tuple([other for other in lot if other != thing])
+            less = tuple([other for other in left if other != thing])
             if self.has_reason(less):
-                lot = less
-        return lot
+                left = less
+        return left
 
 
 def things_untold(net, found):

@@ -80,7 +80,7 @@ class RowReading:
 
     def some_bottom(self):
         """Some bottom that the fraction begun can have."""
-        if self.as_weights or self.top == 0:
+        if self.top == 0:
             return 1
         # The least one with which it is at most what is lacking: for the last one, just this.
         return (self.top * self.lack[1] + self.lack[0] - 1) // self.lack[0]
@@ -95,19 +95,9 @@ class RowReading:
         """A mark that can follow, if this is no such row yet."""
         if self.is_cut:
             return show_number(self.some_bottom())
-        if self.top is not None and not self.fits(1):
+        if self.top is not None:
             return "/"
-        # A numeral alone is done once the next one comes.
-        many = len(self.done) + (1 if self.top is not None else 0)
-        if many + 1 < self.count:
-            return "0"
-        if self.as_weights:
-            return "1"
-        return show_number(self.lack_behind()[0])
-
-    def lack_behind(self):
-        """What is lacking once a numeral that stands alone is done."""
-        return self.lack if self.top is None else taken(self.lack, (self.top, 1))
+        return show_number(self.lack[0]) if self.is_last() else "0"
 
     def fractions(self):
         """The fractions of a row that is whole."""

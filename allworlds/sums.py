@@ -107,7 +107,7 @@ def quotient_of(one, other):
 
 def part_of(entry, divisor):
     """An entry divided by another one, where 0 by 0 is 0."""
-    if divisor[0] == 0 and entry[0] == 0:
+    if entry[0] == 0:
         return ZERO
     if divisor[0] == 0:
         raise Refused("zero")

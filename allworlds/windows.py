@@ -21,8 +21,8 @@ class Window:
         self._many = 0
         # The kept moments, each with its sign and the forward weights of its cases.
         self._kept = ()
-        # For each case that can be the last one, its best course: weight, place among these, kept cases.
-        self._best = {}
+        # For each case, the best course to it: weight, place among these in their order, kept cases.
+        self._best = [(1, 0, ())]
 
     def come(self, sign):
         """Add a moment with the sign that is seen, which may be any value."""
@@ -34,8 +34,7 @@ class Window:
         tops = lowered([weight * factor for weight, factor in zip(weights, shown)])
         if not any(tops):
             raise Refused("barred")
-        begun = self._best if self._kept else {0: (1, 0, ())}
-        self._best = further_best(begun, ways, shown, self.size)
+        self._best = further_best(self._best, ways, shown, self.size)
         self._kept = (self._kept + ((sign, tops),))[-self.size:]
         self._many += 1
 
@@ -64,7 +63,7 @@ class Window:
     def tail(self):
         """The cases of the first best course at the kept moments."""
         self.check_begun()
-        return min([(-top, place, cases) for top, place, cases in self._best.values()])[2]
+        return min([(-top, place, cases) for top, place, cases in self._best])[2]
 
     def check_begun(self):
         """Raise Refused if there has been no moment."""
@@ -84,14 +83,11 @@ def further_best(best, ways, shown, size):
     """The best courses to each case, from those to the cases one moment before."""
     found = []
     for case, factor in enumerate(shown):
-        longer = [
-            (-top * ways[before][case] * factor, place, (cases + (case,))[-size:])
-            for before, (top, place, cases) in best.items() if top * ways[before][case] * factor > 0
-        ]
-        if longer:
-            # Of equal courses that one is first whose course before is first.
-            weight, place, cases = min(longer)
-            found.append((place, case, -weight, cases))
-    found = sorted(found)
-    tops = lowered([row[2] for row in found])
-    return {row[1]: (tops[place], place, row[3]) for place, row in enumerate(found)}
+        # Of equal courses that one is first whose course before is first.
+        weight, place, cases = min([
+            (-top * row[case] * factor, place, cases) for row, (top, place, cases) in zip(ways, best)
+        ])
+        found.append((place, case, -weight, (cases + (case,))[-size:]))
+    order = sorted([(place, case) for place, case, _, _ in found])
+    tops = lowered([weight for _, _, weight, _ in found])
+    return [(tops[case], order.index((place, case)), cases) for place, case, _, cases in found]

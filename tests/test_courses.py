@@ -158,7 +158,7 @@ class TestPapers(unittest.TestCase):
                 at = rng.randrange(len(row))
                 row[at] = pair_of(max(Fraction(0), plain(row[at]) * rng.choice((1, 2)) + Fraction(rng.randint(-1, 2), 40)))
             told = list(paper.courses)
-            kind = rng.randrange(6)
+            kind = rng.randrange(7)
             every = ranking(chain, seen)
             if kind == 0 and every:
                 told = [(pair_of(share), course) for share, course in sorted(rng.sample(every, min(many, len(every))))[::-1]]
@@ -169,6 +169,8 @@ class TestPapers(unittest.TestCase):
             elif kind == 3 and told:
                 at = rng.randrange(len(told))
                 told[at] = (pair_of(plain(told[at][0]) + Fraction(1, 60)), told[at][1])
+            elif kind == 4:
+                told = told[::-1]
             heights = tuple(tuple(row) for row in heights)
             due = plain_is_paper(chain, seen, many, told, heights)
             self.assertIs(self.right(chain, seen, many, CoursePaper(tuple(told), heights)), due)
@@ -197,6 +199,23 @@ class TestPapers(unittest.TestCase):
         paper = course_paper(SURE, (1, 0), 3)
         self.assertEqual(paper.courses, ())
         self.assertTrue(self.right(SURE, (1, 0), 3, paper))
+
+    def test_sequence_and_lengths(self):
+        uneven = Chain(((1, 3), (2, 3)), (HALF, HALF), (HALF, HALF))
+        told = best_courses(uneven, (None, None), 4)
+        heights = course_paper(uneven, (None, None), 4).heights
+        self.assertTrue(self.right(uneven, (None, None), 4, CoursePaper(told, heights)))
+        self.assertFalse(self.right(uneven, (None, None), 4, CoursePaper(told[::-1], heights)))
+        self.assertTrue(self.right(uneven, (None, None), 4, CoursePaper((told[1], told[0]) + told[2:], heights)))
+        certain = Chain(((1, 2), (1, 2)), (((1, 1), (0, 1)), ((0, 1), (1, 1))), (HALF, HALF))
+        told, heights = best_courses(certain, (None, None), 2), course_paper(certain, (None, None), 2).heights
+        self.assertEqual(told, (((1, 2), (0, 0)), ((1, 2), (1, 1))))
+        for course in ((0,), (0, 0, 0), ()):
+            self.assertFalse(self.right(certain, (None, None), 2, CoursePaper((((1, 2), course), told[1]), heights)))
+            self.assertFalse(self.right(certain, (None, None), 2, CoursePaper((told[0], ((1, 2), course)), heights)))
+        # A course with the share 0 is none of those told.
+        self.assertFalse(self.right(certain, (None, None), 3, CoursePaper(told + (((0, 1), (0, 1)),), heights)))
+        self.assertTrue(self.right(certain, (None, None), 3, CoursePaper(told, heights)))
 
     def test_any_value(self):
         seen = (0, 1)

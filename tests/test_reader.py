@@ -80,7 +80,46 @@ class TestTexts(unittest.TestCase):
                 self.refuses(read, completed, value, -1, -1)
 
 
+    def each_mark(self, read, completed, table):
+        """What can follow some marks, by a table of it; the text is whole where an empty mark may follow."""
+        marks = ["a", "b", "is", "of", "never", "abcdefg", "0", "1", "2", "3", "6", "7", "12", "00", "02"]
+        marks += list(":,/;\n!()&|-A._")
+        for begun, told in table.items():
+            allowed = told.replace("NUMBERS", "1 2 3 6 7 12").replace("NEWLINE", "\n").split(" ")
+            if "" in allowed:
+                read(begun)
+            else:
+                self.is_begun(read, completed, begun)
+            for mark in marks:
+                text = begun + " " + mark
+                if mark in allowed:
+                    self.completes(read, completed, text)
+                else:
+                    lines = begun.split("\n")
+                    self.refuses(read, completed, text, len(lines) - 1, len(lines[-1]) + 1)
+
+
 class TestNets(TestTexts):
+    def test_each_mark(self):
+        two = "a 2 : 1 0 \n of 2 : 0 1 \n b 2"
+        many = "".join(f"{name} 2: 1 0\n" for name in "cdefgh")
+        self.each_mark(read_net, completed_net, {
+            "": "a b is of never NEWLINE", "\n": "a b is of never NEWLINE", "a": "2 3 6", "a 2": ":", "a 6": ":",
+            "a 2 :": "0 NUMBERS", "a 2 : 1": "0 /", "a 2 : 0": "NUMBERS /", "a 2 : 2": "/", "a 2 : 1 /": "NUMBERS", "a 2 : 0 /": "NUMBERS",
+            "a 2 : 3 /": "3 6 7 12", "a 2 : 1 / 2": "NUMBERS", "a 2 : 1 / 3": "2 6 12", "a 2 : 1 / 3 2": "/", "a 2 : 1 / 3 2 /": "3",
+            "a 2 : 3 / 3": "0", "a 2 : 0 / 3": "NUMBERS", "a 2 : 1 0": "/ NEWLINE ", "a 2 : 1 0 /": "NUMBERS", "a 2 : 0 1": "/ NEWLINE ",
+            "a 2 : 0 2": "/", "a 2 : 0 2 /": "2", "a 2 : 1 / 2 1 / 2": "NEWLINE ", "a 3 : 1 / 2": "0 NUMBERS",
+            "a 3 : 1 / 2 1": "/", "a 3 : 1 / 2 0": "NUMBERS /", "a 3 : 1 / 2 1 /": "2 3 6 7 12", "a 3 : 1 / 2 3 /": "6 7 12",
+            "a 3 : 1": "0 /", "a 3 : 1 0": "0 /", "a 3 : 2": "/", "a 3 : 1 0 0": "/ NEWLINE ", "a 3 : 0": "0 NUMBERS /",
+            "a 2 : 1 0 \n": "b is of never NEWLINE ", "a 2 : 1 0 \n b": "2 3 6", "a 2 : 1 0 \n b 2": ": of", "a 2 : 1 0 \n b 2 of": "a",
+            "a 2 : 1 0 \n b 2 of a": ":", "a 2 : 1 0 \n b 2 of a : 1 0": "/ ,", "a 2 : 1 0 \n b 2 of a : 1 0 ,": "0 NUMBERS",
+            "a 2 : 1 0 \n b 2 of a : 1 0 , 0 1": "/ NEWLINE ", "a 2 : 1 0 \n b 2 of a : 0 2 / 2": ",", "a 2 : 1 0 \n b 2 of a : 1": "0 /",
+            two: ": of", two + " of": "a of", two + " of of": "a :", two + " of of a": ":", two + " of a of :": "0 NUMBERS",
+            two + " of of a : 1 0 , 1 0 , 1 0": ", /", two + " of of a : 1 0 , 1 0 , 1 0 , 1 0": "NEWLINE / ",
+            many + "a 2 of h g f": ":", many + "a 2 of c d e f": ":", "is 2 : 1 0 \n of 2 of": "is",
+        })
+        self.completes(read_net, completed_net, "a 2 : 1 / 7 12 / 14")
+
     def test_example(self):
         self.assertEqual(read_net(EXAMPLE).things[2], ("crust", 2, (0, 1), (HALF, ALL, NONE, NONE)))
         self.assertEqual(read_net(EXAMPLE), NET)
@@ -243,6 +282,16 @@ class TestNets(TestTexts):
 
 
 class TestNews(TestTexts):
+    def test_each_mark(self):
+        net = Net((("a", 2, (), (HALF,)), ("is", 3, (), (((1, 3),) * 3,))))
+        self.each_mark(lambda text: read_news(net, text), lambda text: completed_news(net, text), {
+            "": "a is ", "a": ": is", "is": ": is", "a is": "0 1", "is is": "0 1 2", "a is 1": "; ", "a :": "0 NUMBERS", "a : 0": "NUMBERS /",
+            "a : 1": "0 NUMBERS /", "a : 0 /": "NUMBERS", "a : 1 /": "NUMBERS", "a : 0 / 3": "NUMBERS", "a : 1 / 3": "0 NUMBERS",
+            "a : 0 1": "/ ; ", "a : 1 0": "/ ; ", "a : 1 0 /": "NUMBERS", "a : 0 1 / 2": "; ", "a is 0 ;": "is", "a : 7 7 ;": "is",
+            "is : 0": "0 NUMBERS /", "is : 0 0": "NUMBERS /", "is : 0 0 / 2": "NUMBERS", "is : 0 1 /": "NUMBERS", "is : 1 0 0": "/ ; ",
+            "is is 0 ;": "a", "is is 0 ; a": ": is", "a is 0 ; is is 0": "", "a is 0 ; is : 1 1 1": "/ ", "is : 1 1 1 ; a : 0 3 / 2": "",
+        })
+
     def read(self, text):
         return read_news(NET, text)
 
@@ -354,6 +403,15 @@ def claims_by_length(names, cases, most):
 
 
 class TestClaims(TestTexts):
+    def test_each_mark(self):
+        net = Net((("a", 2, (), (HALF,)), ("is", 3, (), (((1, 3),) * 3,))))
+        self.each_mark(lambda text: read_claim(net, text), lambda text: completed_claim(net, text), {
+            "": "a is ! (", "a": "is", "is": "is", "a is": "never 0 1", "is is": "never 0 1 2", "a is 0": "1 & | ", "a is 0 1": "& | ",
+            "a is never": "& | ", "is is 2": "0 1 & | ", "is is 2 0": "1 & | ", "!": "a is ! (", "(": "a is ! (", "( a is 0": "1 & | )",
+            "( a is 0 )": "& | ", "( ( a is 0 )": "& | )", "a is 0 &": "a is ! (", "a is 0 |": "a is ! (", "a is 0 & ( a is 1 |": "a is ! (",
+            "! ( a is never": "& | )", "! ! is is 0 1 2": "& | ", "( is is 0 1 2": "& | )", "( ! a": "is", "( ! a is": "never 0 1",
+        })
+
     def read(self, text):
         return read_claim(NET, text)
 

@@ -53,7 +53,7 @@ class QuestionCase(unittest.TestCase):
 class TestQuestions(QuestionCase):
     def test_right(self):
         for bar in ((0, 1), (1, 1), (1, 3)):
-            for findings in ((), ((0, 1),), ((0, 0), (1, 1))):
+            for findings in ((), ((0, 1),), ((0, 0), (1, 1)), ((0, 1), (1, 0))):
                 self.assertIsNone(check_question(HUM, (("is", 0, ()), bar, findings)))
         self.assertIsNone(check_question(net=SURE, value=BARRED))
 
@@ -88,6 +88,8 @@ class TestQuestions(QuestionCase):
             self.news(1, ((0, 1), (1, item)))
         self.news(1, ((0, 0), (0, 1)))
         self.news(1, ((1, 0), (0, 0), None))
+        self.news(1, ((1, 0), (1, 1), None))
+        self.news(1, ((1, 0), (0, 1)))
 
     def news(self, at, findings):
         with self.assertRaises(InvalidNews) as caught:
@@ -372,7 +374,8 @@ class TestPapers(QuestionCase):
                 self.spoilt(net, question, paper, at, message + (value,))
                 self.spoilt(net, question, paper, at, message[:2] + ((value,) + message[2][1:],))
                 self.spoilt(net, question, paper, at, message[:2] + (((value, (1, 1)),) + message[2][1:],))
-                self.spoilt(net, question, paper, at, message[:2] + ((((1, 9), value),) + message[2][1:],))
+                for first in ((-9, 1), message[2][0][0]):
+                    self.spoilt(net, question, paper, at, message[:2] + (((first, value),) + message[2][1:],))
         for wrong in (sequence[::-1] + (1,), sequence + sequence[:1], sequence[1:], (0, 2), (0, 0), (False, 3), list(sequence)):
             self.assertFalse(self.judged(net, question, Reason(lot, wrong, messages)))
         for wrong in ((2, 1), (1,), (1, 2, 3), (0, 1, 2), (True, 2), (1, 1, 2), [1, 2]):
@@ -399,6 +402,21 @@ class TestPapers(QuestionCase):
         for message in (("plain", (), ((1, 3),)), ("plain", (1,), ((1, 3),) * 2, ((2, 3),) * 2), ("margin", (), (((1, 3), (1, 1)),)),
                         ("plain", (), ((1, 3),) * 2, ((2, 3),)), ("plain", (), ((1, 3),), ((2, 3),), ())):
             self.assertFalse(self.judged(net, question, Reason((1,), (0, 2), (paper.messages[0], message))))
+
+    def test_things_of_a_message(self):
+        """A message over other things with as many fillings is none, even if its entries would do."""
+        net = Net((("a", 2, (), (HALF,)), ("b", 2, (), (HALF,)), ("c", 2, (0,), (HALF, HALF)), ("d", 2, (1,), (HALF, HALF))))
+        question = (("is", 0, (0, 1)), (1, 2), ((2, 0),))
+        left, sequence, messages = PlainParts(net, question, ()), (3, 1, 0, 2), []
+        for thing in sequence:
+            message = left.due(thing)
+            left.take(thing, message)
+            messages.append(as_message(*message))
+        self.assertEqual(messages[0], ("plain", (1,), ((1, 1),) * 2, ((1, 1),) * 2))
+        paper = Reason((), sequence, tuple(messages))
+        self.assertTrue(self.judged(net, question, paper))
+        for things in ((0,), (2,), (3,), (True,), (7,)):
+            self.spoilt(net, question, paper, 0, ("plain", things) + messages[0][2:])
 
     def test_large(self):
         net = chain_of(24)

@@ -175,7 +175,7 @@ class TestScripts(unittest.TestCase):
             "share!kiln is 0", "share(kiln is 0)", "ask 1/2", "ask 1/2:", "ask kiln is 0", "ask : kiln is 0", "ask 3/2: kiln is 0",
             "ask 2: kiln is 0", "ask 1/0: kiln is 0", "ask 0/0: kiln is 0", "ask 1/02: kiln is 0", "ask 01: kiln is 0", "ask -1: kiln is 0",
             "ask 1/2/3: kiln is 0", "ask 1 2: kiln is 0", "ask 1/: kiln is 0", "ask /2: kiln is 0", "ask 1/2 kiln is 0",
-            "ask 1/2: kiln is 0: kiln is 0", "ask 1/2:: kiln is 0", "ask1/2: kiln is 0", "ask 1/2: kiln", "ask half: kiln is 0",
+            "ask 1;2: kiln is 0", "ask 1 x 2: kiln is 0", "ask 1 & 2: kiln is 0", "ask 1/2: kiln is 0: kiln is 0", "ask 1/2:: kiln is 0", "ask1/2: kiln is 0", "ask 1/2: kiln", "ask half: kiln is 0",
             "why 1/2; kiln is 0", "turn 11/10: kiln is 0", "best 0", "best 01", "best 1 2", "best -1", "best 1/2", "best two", "best2",
             "best 1;", "total;", "; total", "total, back", "yield 1", "sh are kiln is 0", "put kiln is 0 1", "put kiln is never",
         )

@@ -309,6 +309,15 @@ class TestPapers(QuestionCase):
                 self.assertFalse(self.judged(VOTES, ASKED, costs, TurnPaper(cost, filling, other)))
         for item in NO_INTEGERS + (Odd(), -1, 2):
             self.assertFalse(self.judged(VOTES, ASKED, costs, TurnPaper(cost, (item,) + filling[1:], tree)))
+        for wrong in (filling[:-1], filling + (0,), filling + filling, ()):
+            self.assertFalse(self.judged(VOTES, ASKED, costs, TurnPaper(cost, wrong, tree)))
+        none = (ASKED[0], ASKED[1], ())
+        for wrong in ((0,), (0, 1)):
+            self.assertFalse(self.judged(VOTES, none, (), TurnPaper(0, wrong, ("dear",))))
+        self.assertEqual(tree[2][0][2][0], ("dear",))
+        for leaf in (("dear", ()), ("dear", 1), ("dear", None), ["dear"], "dear", ("near",), ("dear", "dear"), ()):
+            below = tree[2][0][:2] + ((leaf,) + tree[2][0][2][1:],)
+            self.assertFalse(self.judged(VOTES, ASKED, costs, TurnPaper(cost, filling, tree[:2] + ((below,) + tree[2][1:],))))
         for wrong in (0, 1, 3, True, 2.0):
             self.assertFalse(self.judged(VOTES, ASKED, costs, TurnPaper(wrong, filling, tree)))
         self.assertFalse(self.judged(VOTES, ASKED, costs, TurnPaper(cost, list(filling), tree)))

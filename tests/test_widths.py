@@ -208,6 +208,13 @@ class TestLeast(unittest.TestCase):
                     spoilt.append((many, sequence, heights[:at] + (other,) + heights[at + 1:]))
                 spoilt.append((many, sequence, heights[:at] + heights[at + 1:]))
                 spoilt.append((many, sequence, heights[at:] + heights[:at]))
+            rest = tuple(sorted(sequence[many:]))
+            # All of the rest has no number, however low the cost could be told so.
+            cost = cost_by(counts, scopes, sequence, kind)
+            spoilt += [(many, sequence, tuple(sorted(heights + ((rest, number),)))) for number in (0, cost // 2, cost - 1)]
+            other = tuple(sorted(sequence, key=lambda thing: -counts[thing]))
+            cost = cost_by(counts, scopes, other, kind)
+            spoilt.append((0, other, tuple(sorted(heights + ((lot, cost - 1),)))))
             for value in spoilt:
                 told = plain_is_paper(counts, scopes, lot, kind, *value)
                 self.assertIs(is_least_sequence(counts, scopes, lot, kind, value), told, (kind, value))
