@@ -2,7 +2,9 @@
 
 from allworlds.errors import Refused
 from allworlds.nets import counts_of
-from allworlds.parts import first_parts, is_negative, last_margin, left_out_of, part_with, turned_margin
+from allworlds.parts import (
+    cheapest_left, cost_part, first_parts, last_cost, last_margin, left_out_of, part_with, turn_part, turned_margin,
+)
 from allworlds.sequences import cost_by, greedy_sequence
 from allworlds.widths import MOST_LEFT, free_first, least_sequence
 from allworlds.worlds import MOST
@@ -27,6 +29,7 @@ class Asked:
         self.answer = margin[0][0] >= 0
         if not self.answer:
             self.parts = [turned_part(part) for part in parts]
+        self.turning = [turn_part(part) for part in self.parts]
 
     def margin_at(self, fixed):
         """The least margin of all fillings of the told things with the cases of a dict for some of them."""
@@ -37,13 +40,27 @@ class Asked:
                     parts = left_out_of(self.counts, parts, thing, True)
         return last_margin(parts)
 
+    def least_cost(self, costs, fixed):
+        """The least cost of a filling with the cases of a dict that turns the answer, or None if none does.
+
+        A change at a thing costs what it costs in `costs`, or nothing if it is not there.
+        """
+        parts = self.turning + [
+            cost_part(thing, self.counts[thing], self.found[thing], cost) for thing, cost in costs.items()
+        ]
+        parts = [part_with(self.counts, part, fixed) for part in parts]
+        for thing in self.sequence:
+            if thing not in fixed:
+                parts = cheapest_left(self.counts, parts, thing)
+        return last_cost(parts)
+
     def found_at(self, lot):
         """The cases found at the things of a lot, by thing."""
         return {thing: self.found[thing] for thing in lot}
 
     def has_reason(self, lot):
         """Whether a lot of told things is a reason."""
-        return not is_negative(self.margin_at(self.found_at(lot)))
+        return self.least_cost({}, self.found_at(lot)) is None
 
     def reason_within(self, lot):
         """The reason within a reason that is left if each thing that can be is left out, ascending."""

@@ -1,7 +1,5 @@
 """Changes of findings that turn an answer, and the cheapest ones with papers."""
 
-from heapq import heappop, heappush
-
 from allworlds.asked import Asked
 from allworlds.blockers import least_blockers
 from allworlds.errors import InvalidNumber
@@ -78,44 +76,36 @@ def cheapest_turn(net, question, costs):
     """The cost and the filling of some cheapest turn, or None; costs may be any value."""
     asked = Asked(net, question)
     check_costs_of(asked, costs)
-    return cheapest_of(asked, costs_by_thing(asked, costs), [])
+    return cheapest_of(asked, costs_by_thing(asked, costs))
 
 
-def cheapest_of(asked, costs, reasons):
-    """The cost and the filling of some cheapest turn, or None; the reasons that are met are added."""
-    queue = [(0, ())]
-    seen = {(): True}
-    while queue:
-        cost, lot = heappop(queue)
-        reason = reason_beside(asked, lot, reasons)
-        if reason is None:
-            return (cost, turn_within(asked, lot))
-        # What turns the answer changes a thing of each reason.
-        for thing in reason:
-            longer = tuple(sorted(lot + (thing,)))
-            if longer not in seen:
-                seen[longer] = True
-                heappush(queue, (cost + costs[thing], longer))
-    return None
+def cheapest_of(asked, costs):
+    """The cost and the filling of some cheapest turn of what is asked, or None."""
+    least = asked.least_cost(costs, {})
+    if least is None:
+        return None
+    fixed = {}
+    for thing in asked.told:
+        fixed[thing] = 0
+        while asked.least_cost(costs, fixed) != least:
+            fixed[thing] += 1
+    return (least, tuple([fixed[thing] for thing in asked.told]))
 
 
 def reason_beside(asked, lot, reasons):
-    """A reason that has no thing of a lot, from those met before if there is one, or None."""
+    """A reason that has no thing of a lot, from those met before if there is one; it is added to these."""
     for reason in reasons:
         if not any([thing in lot for thing in reason]):
             return reason
-    rest = told_but(asked, lot)
-    if not asked.has_reason(rest):
-        return None
-    reasons.append(asked.reason_within(rest))
+    reasons.append(asked.reason_within(told_but(asked, lot)))
     return reasons[-1]
 
 
 def stand_count(net, question):
     """The greatest number of changes of which no so many turn the answer, or None if none do at all."""
     asked = Asked(net, question)
-    cheapest = cheapest_of(asked, {thing: 1 for thing in asked.told}, [])
-    return None if cheapest is None else cheapest[0] - 1
+    least = asked.least_cost({thing: 1 for thing in asked.told}, {})
+    return None if least is None else least - 1
 
 
 class TurnPaper:
@@ -132,10 +122,9 @@ def turn_paper(net, question, costs):
     asked = Asked(net, question)
     check_costs_of(asked, costs)
     known = costs_by_thing(asked, costs)
-    reasons = []
-    cheapest = cheapest_of(asked, known, reasons)
+    cheapest = cheapest_of(asked, known)
     cost, filling = (None, None) if cheapest is None else cheapest
-    return TurnPaper(cost, filling, tree_beside(asked, known, cost, (), reasons, {}))
+    return TurnPaper(cost, filling, tree_beside(asked, known, cost, (), [], {}))
 
 
 def tree_beside(asked, costs, cost, lot, reasons, made):

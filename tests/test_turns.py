@@ -214,6 +214,16 @@ class TestCheapest(QuestionCase):
         self.assertIs(is_turn_paper(net, question, costs, paper), True)
         self.assertIs(is_turn_paper(net, question, (1,) * 23, paper), False)
 
+    def test_thirteen_votes(self):
+        """As many as can be put together with what they tell of."""
+        net = votes(13)
+        question = (ASKED[0], ASKED[1], tuple((at, 0) for at in range(1, 14)))
+        self.assertEqual(stand_count(net, question), 6)
+        costs = tuple(7 * at % 13 + 10 ** 20 for at in range(13))
+        cost, filling = cheapest_turn(net, question, costs)
+        self.assertEqual(cost, sum(sorted(costs)[:7]))
+        self.assertEqual(filling, tuple(int(one in sorted(costs)[:7]) for one in costs))
+
     def test_eleven_votes(self):
         net = votes(11)
         question = (ASKED[0], ASKED[1], tuple((at, 0) for at in range(1, 12)))
