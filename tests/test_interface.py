@@ -80,6 +80,22 @@ INTERFACE = {
     "scripts": "is_command(net,value) read_script(net,text) show_command(net,command) show_script(net,commands)",
     "reader": """read_net(text) read_news(net,text) read_claim(net,text) completed_net(text) completed_news(net,text)
         completed_claim(net,text)""",
+    "papers": """Paper(tree,homes,up,down) own_tree(net) paper_with(net,news,tree,homes) paper_of(net,news,tree=None)
+        total_in(paper) cluster_weights(net,news,paper,cluster) cut_weights(paper,cluster) shares_at(net,news,paper,thing)
+        shares_of(net,news,thing) shares_of_all(net,news,tree=None) turned_paper(paper,cluster)""",
+    "choices": """check_acts(net,value) mean_worth(net,news,act) mean_worths(net,news,acts) best_act(net,news,acts)
+        look_rows(net,news,acts,lot) look_worth(net,news,acts,lot) look_gain(net,news,acts,lot) full_worth(net,news,acts)
+        acts_after(net,news,acts,lot) turning_fillings(net,news,acts,lot) idle_things(net,news,acts)""",
+    "judge": "first_fault(net,news,value) is_paper(net,news,value) check_paper(net,news,value)",
+    "leaving": "without_thing(net,thing) net_of_lot(net,lot) told_net(net,news) question_net(net,news,lot)",
+    "moved": """is_spot(net,value) spots_of(net) spots_in(net,thing) entry_at_spot(net,spot) moved_row(row,case,x)
+        moved_net(net,spot,x) beside_table(net,news,claim,thing) weight_line(net,news,claim,spot)
+        lines_of_thing(net,news,claim,thing) moved_share(net,news,claim,spot)""",
+    "needed": "pieces_of(net,news) piece_totals(net,news) needed_things(net,lot,news) needed_net(net,lot,news)",
+    "placing": """comes_before(one,other) is_mixed_sequence(net,lot,value) mixed_sequence(net,lot) line_of(lot,sequence)
+        best_messages(net,news,lot,sequence)""",
+    "readings": """lot_weights(net,news,paper,lot) lot_shares(net,news,paper,lot) share_in(net,news,paper,claim)
+        slopes_of(net,news,paper,thing) news_slopes(net,news,paper,thing) total_by(slopes,table)""",
 }
 # The methods that are listed for classes, with their parameters; each stands in the class itself.
 METHODS = {
