@@ -100,6 +100,10 @@ INTERFACE = {
 # The methods that are listed for classes, with their parameters; each stands in the class itself.
 METHODS = {
     ("windows", "Window"): "come(self,sign) moments(self) now(self) ago(self,moments) ahead(self,moments) tail(self)",
+    ("kept", "Kept"): """present_net(self) present_news(self) deeds(self) made(self) put(self,thing,weights)
+        take(self,thing) change_rows(self,thing,rows) back(self) total(self) shares(self,thing) share(self,claim)
+        paper(self)""",
+    ("likely", "Listing"): "following(self) paper(self)",
 }
 
 

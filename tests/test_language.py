@@ -25,7 +25,7 @@ COMPREHENSIONS = (ast.ListComp, ast.SetComp, ast.DictComp, ast.GeneratorExp)
 AT_ONCE = {"list", "tuple", "dict", "sorted", "sum", "any", "all", "enumerate", "zip", "min", "max"}
 VIEWS = {"zip", "enumerate", "reversed", "range"}
 BARRED = (ast.Global, ast.AsyncFunctionDef, ast.Await, ast.AsyncFor, ast.AsyncWith, ast.GeneratorExp, ast.Set, ast.SetComp,
-          ast.Yield, ast.YieldFrom, ast.With, ast.Match, ast.NamedExpr, ast.AnnAssign, ast.Try, ast.Nonlocal, ast.Div,
+          ast.Yield, ast.YieldFrom, ast.With, ast.Match, ast.NamedExpr, ast.AnnAssign, ast.Nonlocal, ast.Div,
           ast.MatMult, ast.Import)
 
 
@@ -161,6 +161,15 @@ class TestLanguage(unittest.TestCase):
             if isinstance(node, ast.Starred):
                 self.assertNotIsInstance(node.ctx, ast.Load, where)
 
+    def test_caught(self):
+        # Only errors of the package are caught, and of one that is named only its own attributes are read.
+        found = {node.name for node in sources()["errors.py"][1].body if isinstance(node, ast.ClassDef)}
+        for where, node, _ in self.each_node():
+            if isinstance(node, ast.Try):
+                self.assertEqual((node.orelse, node.finalbody), ([], []), where)
+                for handler in node.handlers:
+                    self.assertIn(handler.type.id, found, where)
+
     def test_words(self):
         for name, (text, tree) in sources().items():
             bare = text
@@ -192,7 +201,7 @@ class TestLanguage(unittest.TestCase):
                     where = f"{name}:{node.lineno} {word}"
                     self.assertNotIn(word, odd, where)
                     self.assertNotIn(word, taken, where)
-                    self.assertNotIn(word, METHODS & {"items", "keys", "values"}, where)
+                    self.assertNotIn(word, METHODS & {"items", "keys"}, where)
                 if isinstance(node, ast.Name) and isinstance(node.ctx, ast.Load) and node.id in odd:
                     self.assertIn(node.id, BUILTINS, f"{name}:{node.lineno}")
 
@@ -283,7 +292,7 @@ class TestLanguage(unittest.TestCase):
         for where, node, around in self.each_node():
             if isinstance(node, ast.Name) and node.id in own:
                 outer = around[node]
-                self.assertTrue(isinstance(outer, ast.ClassDef) or isinstance(outer, ast.Call) and (
+                self.assertTrue(isinstance(outer, (ast.ClassDef, ast.ExceptHandler)) or isinstance(outer, ast.Call) and (
                     outer.func is node or call_name(outer) == "isinstance"), where)
             if isinstance(node, ast.Raise):
                 self.assertIn(call_name(node.exc), own, where)
