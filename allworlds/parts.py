@@ -3,9 +3,6 @@
 A part is ("plain", things, lows, highs), with low and high bounds for each
 filling of its things, or ("margin", things, margins). A margin is a pair of
 fractions; margins are compared by the first ones, then by the second ones.
-
-A part ("turn", things, costs) has a number for each filling, or None where
-no filling with it turns the answer. Such parts are added.
 """
 
 from allworlds.claims import folded, holding_bits, things_of_claim
@@ -86,17 +83,6 @@ def part_at(part, below, fixed):
     return ("is", part[1], (0,) if fixed[part[1]] in part[2] else ())
 
 
-def part_with(counts, part, fixed):
-    """A part with the things of a dict fixed at their cases there."""
-    steps = steps_by(part[1], at_places(counts, part[1]))
-    kept = tuple([thing for thing in part[1] if thing not in fixed])
-    if kept == part[1]:
-        return part
-    first = sum([steps[thing] * fixed[thing] for thing in part[1] if thing in fixed])
-    places = places_by(kept, at_places(counts, kept), steps, first)
-    return (part[0], kept) + tuple([at_places(entries, places) for entries in part[2:]])
-
-
 def things_of_message(parts, thing):
     """The lot of all other things of the parts that have a thing."""
     return tuple(sorted(set([other for part in parts if thing in part[1] for other in part[1] if other != thing])))
@@ -150,40 +136,3 @@ def last_margin(parts):
     highs = [part[3][0] for part in parts if part[0] == "plain"]
     margins = [part[2][0] for part in parts if part[0] == "margin"]
     return weighed(margins[0], product_of_all(lows), product_of_all(highs))
-
-
-def turn_part(part):
-    """What a part with equal lows and highs leaves of the fillings that turn the answer, at no cost."""
-    if part[0] == "margin":
-        # A margin below 0 stays so, times what is above 0.
-        return ("turn", part[1], tuple([0 if is_negative(margin) else None for margin in part[2]]))
-    return ("turn", part[1], tuple([0 if low[0] > 0 else None for low in part[2]]))
-
-
-def cost_part(thing, count, found, cost):
-    """The part of what a change at a thing costs."""
-    return ("turn", (thing,), tuple([0 if case == found else cost for case in range(count)]))
-
-
-def sum_of_costs(costs):
-    """The sum of some costs, or None if one of them is None."""
-    return None if None in costs else sum(costs)
-
-
-def least_of_costs(costs):
-    """The least of some costs but None, or None if there is no other."""
-    return min([cost for cost in costs if cost is not None], default=None)
-
-
-def cheapest_left(counts, parts, thing):
-    """The parts of costs after a thing has been left out."""
-    things = things_of_message(parts, thing)
-    having = [spread_part(counts, part, things + (thing,))[2] for part in parts if thing in part[1]]
-    costs = [sum_of_costs([column[number] for column in having]) for number in range(len(having[0]))]
-    message = ("turn", things, folded_entries(costs, counts[thing], least_of_costs))
-    return [part for part in parts if thing not in part[1]] + [message]
-
-
-def last_cost(parts):
-    """The cost that parts of costs without things make together."""
-    return sum_of_costs([part[2][0] for part in parts])

@@ -11,7 +11,6 @@ from allworlds.parts import (
 )
 from allworlds.rows import are_from_zero, is_bar
 from allworlds.sequences import lot_size
-from allworlds.trees import has_all
 
 MOST_FINDINGS = 10
 
@@ -104,21 +103,15 @@ def smaller_reason(net, question, lot):
 
 def least_reasons(net, question):
     """The lot of all reasons of which no part is one."""
+    return few_asked(net, question).least_reasons()
+
+
+def few_asked(net, question):
+    """What is asked by a question with few findings; raises Refused for too many."""
     asked = Asked(net, question)
     if len(asked.told) > MOST_FINDINGS:
         raise Refused("size")
-    reasons = []
-    layer = [()]
-    while layer:
-        found = [lot for lot in layer if asked.has_reason(lot)]
-        reasons.extend(found)
-        # Each lot comes once, from the one without its last thing.
-        longer = [
-            lot + (thing,) for lot in layer if lot not in found
-            for thing in asked.told if not lot or thing > lot[-1]
-        ]
-        layer = [lot for lot in longer if not any([has_all(lot, reason) for reason in reasons])]
-    return tuple(sorted(reasons))
+    return asked
 
 
 class Reason:
@@ -136,7 +129,7 @@ def reason_paper(net, question, lot):
     check_reason(asked, lot)
     parts = parts_for(net, question, asked, lot)
     left = tuple([thing for thing in asked.told if thing not in lot])
-    sequence = easy_sequence(asked.counts, parts, things_untold(net, asked.found))
+    sequence = easy_sequence(asked.counts, [part[1] for part in parts], things_untold(net, asked.found))
     sequence = sequence + tuple([thing for thing in asked.sequence if thing in left])
     messages = []
     for thing in sequence:

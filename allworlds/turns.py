@@ -1,11 +1,10 @@
 """Changes of findings that turn an answer, and the cheapest ones with papers."""
 
 from allworlds.asked import Asked
-from allworlds.blockers import least_blockers
 from allworlds.errors import InvalidNumber
 from allworlds.kinds import is_below, is_number
 from allworlds.parts import is_negative
-from allworlds.reasons import cases_at, is_told_lot, least_reasons, worst_of
+from allworlds.reasons import cases_at, few_asked, is_told_lot, worst_of
 
 
 def changes_in(question, filling):
@@ -53,7 +52,7 @@ def turn_within(asked, lot):
 
 def least_turns(net, question):
     """The lot of all turning lots of which no part is one."""
-    return least_blockers(least_reasons(net, question))
+    return few_asked(net, question).least_turned()
 
 
 def check_costs_of(asked, value):

@@ -1,0 +1,185 @@
+"""Tables of whole numbers over things in any order, multiplied and summed as they grow.
+
+A whole table is (order, entries): a tuple of things, and a list with a number
+for each filling of them in this order, ascending. All tables of a question
+stand over one bottom, so that only the tops are needed.
+"""
+
+from allworlds.claims import holding_bits, things_of_claim
+from allworlds.fillings import at_places, fill_count, places_by, steps_by
+from allworlds.nets import counts_of
+from allworlds.numbers import common_bottom, tops_over
+from allworlds.tables import table_of
+
+
+def whole_tables(net):
+    """The tables of all things in whole numbers, and the bottom of a product of an entry of each."""
+    tables = []
+    bottom = 1
+    for thing in range(len(net.things)):
+        table = table_of(net, thing)
+        common = common_bottom(table.entries)
+        tables.append((table.things, tops_over(table.entries, common)))
+        bottom = bottom * common
+    return (tables, bottom)
+
+
+def whole_margins(net, claim, bar):
+    """The table of a claim in whole numbers: what a world with it counts more than one's bar, and one without it."""
+    things = things_of_claim(claim)
+    counts = at_places(counts_of(net), things)
+    bits = holding_bits(claim, things, counts)
+    top, bottom = bar
+    return (things, [bottom - top if bits >> number & 1 else -top for number in range(fill_count(counts))])
+
+
+def aligned(counts, order, entries, other):
+    """The order of two tables, with new things behind, and the entries of both for all its fillings."""
+    things, beside = other
+    new = tuple([thing for thing in things if thing not in order])
+    grown = order + new
+    places = places_by(grown, at_places(counts, grown), steps_by(things, at_places(counts, things)))
+    many = fill_count(at_places(counts, new))
+    if many > 1:
+        entries = [entry for entry in entries for _ in range(many)]
+    return (grown, entries, [beside[place] for place in places])
+
+
+def having(tables, thing):
+    """The tables that have a thing."""
+    return [table for table in tables if thing in table[0]]
+
+
+def lacking(tables, thing):
+    """The tables that have not a thing."""
+    return [table for table in tables if thing not in table[0]]
+
+
+def product_behind(counts, thing, tables):
+    """The product of some tables, with a thing first."""
+    order, entries = (thing,), [1] * counts[thing]
+    for table in tables:
+        order, entries, beside = aligned(counts, order, entries, table)
+        entries = [one * other for one, other in zip(entries, beside)]
+    return (order, entries)
+
+
+def by_case(entries, count):
+    """The entries at each case of the first thing of an order."""
+    many = len(entries) // count
+    return [entries[start:start + many] for start in range(0, len(entries), many)]
+
+
+def sums_by_case(entries, count):
+    """The sums of the entries over all cases of the first thing of an order."""
+    pieces = by_case(entries, count)
+    total = pieces[0]
+    for piece in pieces[1:]:
+        total = [one + other for one, other in zip(total, piece)]
+    return total
+
+
+def summed_tables(counts, tables, thing):
+    """Tables with the product of those that have a thing summed over its cases."""
+    order, entries = product_behind(counts, thing, having(tables, thing))
+    return lacking(tables, thing) + [(order[1:], sums_by_case(entries, counts[thing]))]
+
+
+def summed_out_of(counts, tables, margins, thing):
+    """Tables, and those of the margins, with a thing summed out."""
+    if thing not in margins[0]:
+        return (summed_tables(counts, tables, thing), margins)
+    count = counts[thing]
+    order, entries = product_behind(counts, thing, having(tables, thing))
+    wide, spread, firsts = aligned(counts, order, entries, margins[:2])
+    firsts = [entry * first for entry, first in zip(spread, firsts)]
+    _, _, seconds = aligned(counts, order, entries, (margins[0], margins[2]))
+    seconds = [entry * second for entry, second in zip(spread, seconds)]
+    return (lacking(tables, thing), (wide[1:], sums_by_case(firsts, count), sums_by_case(seconds, count)))
+
+
+def is_below_zero(pair):
+    """Whether a margin in whole numbers is below 0."""
+    return pair[0] < 0 or pair[0] == 0 and pair[1] < 0
+
+
+def weighed_pair(pair, low, high):
+    """The least margin in whole numbers times a number between two bounds."""
+    factor = high if is_below_zero(pair) else low
+    return (pair[0] * factor, pair[1] * factor)
+
+
+def product_of_last(tables):
+    """The product of tables without things."""
+    product = 1
+    for _, entries in tables:
+        product = product * entries[0]
+    return product
+
+
+def least_out_of(counts, lows, highs, margins, thing):
+    """Low and high bounds, and margins, with a told thing left out by least values."""
+    count = counts[thing]
+    order, low = product_behind(counts, thing, having(lows, thing))
+    _, high = product_behind(counts, thing, having(highs, thing))
+    rest, others = lacking(lows, thing), lacking(highs, thing)
+    if thing in margins[0]:
+        wide, low, pairs = aligned(counts, order, low, margins)
+        _, high, _ = aligned(counts, order, high, margins)
+        pairs = [weighed_pair(pair, one, other) for pair, one, other in zip(pairs, low, high)]
+        return (rest, others, (wide[1:], least_by_case(pairs, count)))
+    greatest = by_case(high, count)
+    best = greatest[0]
+    for piece in greatest[1:]:
+        best = [max(one, other) for one, other in zip(best, piece)]
+    return (rest + [(order[1:], least_by_case(low, count))], others + [(order[1:], best)], margins)
+
+
+def least_by_case(entries, count):
+    """The least of the entries over all cases of the first thing of an order."""
+    pieces = by_case(entries, count)
+    least = pieces[0]
+    for piece in pieces[1:]:
+        least = [min(one, other) for one, other in zip(least, piece)]
+    return least
+
+
+def turning_tables(tables, margins):
+    """Whether each entry is above 0, and each margin below 0; where all are, the answer is turned."""
+    order, pairs = margins
+    bits = [(things, [entry > 0 for entry in entries]) for things, entries in tables]
+    return bits + [(order, [is_below_zero(pair) for pair in pairs])]
+
+
+def cheapest_out_of(counts, tables, thing):
+    """Tables of costs with a thing left out by least sums."""
+    order, entries = (thing,), [0] * counts[thing]
+    for table in having(tables, thing):
+        order, entries, beside = aligned(counts, order, entries, table)
+        entries = [one + other for one, other in zip(entries, beside)]
+    return lacking(tables, thing) + [(order[1:], least_by_case(entries, counts[thing]))]
+
+
+def opened_out_of(counts, tables, thing, found, mask):
+    """Tables of bits with a thing left out: at the case found, or for the bits of a mask at any one."""
+    order, entries = (thing,), [-1] * counts[thing]
+    for table in having(tables, thing):
+        order, entries, beside = aligned(counts, order, entries, table)
+        entries = [one & other for one, other in zip(entries, beside)]
+    pieces = by_case(entries, counts[thing])
+    whole = pieces[0]
+    for piece in pieces[1:]:
+        whole = [one | other for one, other in zip(whole, piece)]
+    return lacking(tables, thing) + [(order[1:], [one | other & mask for one, other in zip(pieces[found], whole)])]
+
+
+def table_at(counts, table, fixed):
+    """A table with the things of a dict fixed at their cases there."""
+    order, entries = table
+    kept = tuple([thing for thing in order if thing not in fixed])
+    if kept == order:
+        return table
+    steps = steps_by(order, at_places(counts, order))
+    first = sum([steps[thing] * fixed[thing] for thing in order if thing in fixed])
+    places = places_by(kept, at_places(counts, kept), steps, first)
+    return (kept, [entries[place] for place in places])
