@@ -16,8 +16,8 @@ from allworlds.wholes import (
 from allworlds.widths import MOST_LEFT, free_first, least_sequence
 from allworlds.worlds import MOST
 
-# For so many told things all their lots are looked at together.
-MOST_TOGETHER = 10
+# For no more told things all their lots are looked at together, each a bit of one number.
+MOST_TOGETHER = 12
 
 
 class Asked:
@@ -87,9 +87,12 @@ class Asked:
 
         For each bit of the whole number a thing keeps the case found, unless its mask has this bit, too.
         """
-        tables = [(order, [whole if bit else 0 for bit in bits]) for order, bits in self.turning]
+        fixed = self.found_at([thing for thing in self.told if masks[thing] == 0])
+        tables = [table_at(self.counts, table, fixed) for table in self.turning]
+        tables = [(order, [whole if bit else 0 for bit in bits]) for order, bits in tables]
         for thing in self.sequence:
-            tables = opened_out_of(self.counts, tables, thing, self.found[thing], masks[thing])
+            if thing not in fixed:
+                tables = opened_out_of(self.counts, tables, thing, self.found[thing], masks[thing])
         for _, entries in tables:
             whole = whole & entries[0]
         return whole

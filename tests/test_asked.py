@@ -120,7 +120,7 @@ class TestTogether(unittest.TestCase):
                 self.assertEqual((asked.has_reason(lot), alone), (lot in reasons, int(lot not in reasons)))
 
     def test_many(self):
-        # More than ten findings: each lot is looked at alone.
+        # With so many findings each lot is looked at alone.
         net = votes(13)
         told = tuple(range(1, 14))
         question = (("is", 0, (0,)), (1, 2), tuple((thing, 0) for thing in told))
