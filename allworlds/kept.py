@@ -28,7 +28,7 @@ class Kept:
         self._deeds = []
         self._before = []
         self._owns = {}
-        # For each step the message that is kept, and what it was made of.
+        # For each step the message that is kept, and what it was made of, or None.
         self._kept = {}
         self._many = 0
 
@@ -98,10 +98,7 @@ class Kept:
         self._now, self._news, known = self._before.pop()
         self._forget(thing)
         for step, told in known.items():
-            if told is not None:
-                self._kept[step] = told
-            elif step in self._kept:
-                del self._kept[step]
+            self._kept[step] = told
 
     def _own(self, cluster):
         """The own table of a cluster by the present net and news."""

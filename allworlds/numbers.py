@@ -100,10 +100,11 @@ def total_of_all(fractions):
 
 def product_of_all(fractions):
     """The product of a tuple or list of fractions."""
-    product = ONE
-    for fraction in fractions:
-        product = timed(product, fraction)
-    return product
+    top, bottom = 1, 1
+    for one, other in fractions:
+        top = top * one
+        bottom = bottom * other
+    return fraction_of(top, bottom)
 
 
 def scaled_tops(tops):

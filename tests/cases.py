@@ -17,6 +17,16 @@ def wide_net(many, count=2):
     return Net(tuple(("abcdefghijklmnopqrstuvwx"[at], count, (), (row,)) for at in range(many)))
 
 
+# Nine things with just 20,000 fillings.
+FULL = (5, 5, 5, 5, 2, 2, 2, 2, 2)
+
+
+def free_net(counts):
+    """A net of things with such counts and no ties."""
+    rows = [((1, count),) * count for count in counts]
+    return Net(tuple(("abcdefghijklmnopqrstuvwx"[at], count, (), (rows[at],)) for at, count in enumerate(counts)))
+
+
 def chain_net_of(many, rows=(((1, 3), (2, 3)), ((3, 4), (1, 4)))):
     """A net of so many things, each the only parent of the next one."""
     things = [("a", 2, (), (((2, 5), (3, 5)),))]

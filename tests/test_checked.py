@@ -52,6 +52,10 @@ class TestRuns(unittest.TestCase):
                 self.wrong(at, value)
             for value in NO_TUPLES + ((), result[:-1], result + (None,), ("refused", "barred"), ("ok", "ok"), ("none",)):
                 self.wrong(at, (value, paper))
+            for value in NO_TUPLES + ((), nest(100000)):
+                self.wrong(at, ((value,) + result[1:], paper))
+                if len(result) > 1:
+                    self.wrong(at, (result[:1] + (value,), paper)) if value is not True else None
         # The first one that is wrong is named.
         self.assertEqual(run_fault(KILN, COMMANDS, exchanged(exchanged(ANSWERS, 5, None), 3, None)), 3)
 
@@ -118,6 +122,7 @@ class TestRuns(unittest.TestCase):
         commands = tuple(("put", at, ((1, 1), (0, 1))) for at in (1, 2, 3)) + (("why", (1, 2), ASKED[0]),)
         answers = run_with_papers(VOTES, commands)
         self.assertEqual(answers[3][0], ("reason", (2, 3)))
+        self.assertIsNone(run_fault(VOTES, commands, answers))
         for lot, turns in (((1, 2), ((1, 0, 1), (0, 1, 1))), ((1, 3), ((1, 1, 0), (0, 1, 1)))):
             pair = (("reason", lot), (reason_paper(VOTES, ASKED, lot), turns))
             self.assertIsNone(run_fault(VOTES, commands, exchanged(answers, 3, pair)))
@@ -158,6 +163,11 @@ class TestRuns(unittest.TestCase):
                       (paper, best_paper(KILN, (), (0,), 2)), (paper, best_paper(KILN, FOUND, (0, 1), 2)),
                       (paper_of(KILN, FOUND), best), (paper, BestPaper(best.lot, best.sequence, best.messages, ()))):
             self.wrong(6, (result, value))
+        # A listing of a lot that has not all things, and a paper that has the total only.
+        some = best_paper(KILN, (), (0,), 2)
+        self.wrong(6, (("worlds", (((3, 4), (1,)), ((1, 4), (0,)))), (paper, some)))
+        broken = Paper(paper.tree, paper.homes, paper.up, (Table((), (), ((2, 1),)),) + paper.down[1:])
+        self.wrong(6, (result, (broken, best)))
         other = best_paper(KILN, (), (0, 1), 2)
         turned = BestPaper(other.lot, other.sequence, other.messages, other.listing)
         self.assertIsNone(run_fault(KILN, COMMANDS, exchanged(ANSWERS, 6, (result, (paper, turned)))))
@@ -180,6 +190,10 @@ class TestRuns(unittest.TestCase):
             for at in range(2, 8):
                 for paper in (answers[at][1], None, (answers[at][1], best_paper(net, (), tuple(range(15)), 1))):
                     self.wrong(at, (result, paper), net, commands, answers)
+        # There are no worlds, and a right paper of this, but no answer.
+        best = best_paper(net, ((0, ((1, 1), (0, 1))),), tuple(range(15)), 1)
+        self.assertEqual(best.listing, ())
+        self.wrong(5, (("worlds", ()), (answers[5][1], best)), net, commands, answers)
         for at, word in ((0, "size"), (9, "weights")):
             self.assertEqual(answers[at], (("refused", word), None))
             for value in ((("refused", word), answers[2][1]), (barred, answers[2][1]), (("refused", "weights" if at == 0 else "size"), None),
@@ -229,8 +243,13 @@ class TestStatements(unittest.TestCase):
             self.assertFalse(is_so(statement[:-1]))
             self.assertFalse(is_so(statement + (None,)))
             self.assertFalse(is_so(list(statement)))
-        for value in NO_TUPLES + ((), ("paper",), ("law", KILN), nest(100000), (Odd(), KILN, FOUND, paper)):
+        for value in NO_TUPLES + ((), ("paper",), ("law",), ("law", KILN), nest(100000), (Odd(), KILN, FOUND, paper)):
             self.assertIs(is_so(value), False)
+        best = best_paper(KILN, FOUND, (0,), 1)
+        self.assertTrue(is_so(("worlds", KILN, FOUND, 1, best)))
+        for many in (0, -1):
+            self.assertFalse(is_so(("worlds", KILN, FOUND, many, best)))
+            self.assertFalse(is_so(("worlds", KILN, FOUND, many, BestPaper(best.lot, best.sequence, best.messages, ()))))
         self.assertTrue(is_so(("run", KILN, (), ())))
         self.assertEqual(not_so(values=statements), ())
         self.assertEqual(not_so((1,) + statements + ((), ("paper", KILN, (), paper))), (0, len(statements) + 1, len(statements) + 2))

@@ -12,7 +12,7 @@ from allworlds.nets import counts_of
 from allworlds.plain import plain_total
 from allworlds.reader import read_net
 from allworlds.tables import Table
-from tests.cases import NO_WORLD, SURE, ErrorCase, chain_net_of, wide_net
+from tests.cases import FULL, NO_WORLD, SURE, ErrorCase, chain_net_of, free_net, wide_net
 from tests.drawn import (
     NO_TUPLES, Odd, all_worlds, draw_lot, draw_net, draw_news, drawn, nest, pair_of, plain, plain_weight,
 )
@@ -168,6 +168,11 @@ class TestActs(ErrorCase):
         self.refused("size", full_worth, net, (), ten)
         self.refused("size", full_worth, sure, ((0, ((0, 1), (1, 1))),), ten)
         self.assertEqual(full_worth(net, (), ten[:1]), (0, 1))
+
+    def test_just_so_many(self):
+        acts = (Table((), (), ((1, 1),)),)
+        self.assertEqual(len(look_rows(free_net(FULL), (), acts, tuple(range(9)))), 20000)
+        self.refused("size", look_rows, free_net(FULL[:-1] + (3,)), (), acts, tuple(range(9)))
 
     def test_long(self):
         net = chain_net_of(24)

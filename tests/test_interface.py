@@ -129,9 +129,12 @@ class TestInterface(unittest.TestCase):
                 word, _, told = item.partition("(")
                 self.assertEqual(str(inspect.signature(own[word])).replace(" ", ""), "(" + told)
 
-    def test_readme(self):
-        readme = os.path.join(os.path.dirname(os.path.dirname(allworlds.__file__)), "README.md")
-        self.assertEqual(doctest.testfile(readme, module_relative=False).failed, 0)
+    def test_examples(self):
+        folder = os.path.dirname(os.path.dirname(allworlds.__file__))
+        for file in ("README.md", os.path.join("tests", "examples.md")):
+            told = doctest.testfile(os.path.join(folder, file), module_relative=False)
+            self.assertEqual(told.failed, 0)
+            self.assertGreater(told.attempted, 10)
 
 
 if __name__ == "__main__":

@@ -8,7 +8,7 @@ from allworlds.leaving import net_of_lot, question_net, told_net, without_thing
 from allworlds.nets import Net, counts_of, finding, names_of
 from allworlds.plain import plain_shares, plain_sums, plain_total
 from allworlds.sequences import cluster_behind, scopes_in
-from tests.cases import HALF, NO_WORLD, SURE, ErrorCase, chain_net_of
+from tests.cases import FULL, HALF, NO_WORLD, SURE, ErrorCase, chain_net_of, free_net
 from tests.drawn import all_worlds, draw_lot, draw_net, draw_news, drawn, plain, plain_weight, plain_world_share
 from tests.test_needed import NET
 
@@ -104,6 +104,17 @@ class TestThings(ErrorCase):
         self.assertEqual(net_of_lot(hub(20), (0,)), Net(hub(20).things[:1]))
         self.assertEqual(names_of(net_of_lot(chain_net_of(24), (0, 12, 23))), ("a", "m", "x"))
 
+    def test_just_so_many(self):
+        # The hub and its children have just 20,000 fillings, or twice as many.
+        for counts, many in ((FULL, 9), (FULL + (2,), 10)):
+            things = [("hub", 2, (), (HALF,))]
+            for at, count in enumerate(counts[:-1]):
+                things.append(("abcdefghi"[at], count, (0,), (((1, count),) * count,) * 2))
+            if many == 9:
+                self.assertEqual(without_thing(Net(tuple(things)), 0).things[7][2], tuple(range(7)))
+            else:
+                self.refused("size", without_thing, Net(tuple(things)), 0)
+
     def test_size_in_sequence(self):
         # Left out from the greatest number on, the second hub ties what the first one has to leave.
         count = 6
@@ -176,6 +187,16 @@ class TestTold(ErrorCase):
         self.refused("size", told_net, barred, (finding(barred, 14, 1),))
         many = chain_net_of(24)
         self.assertEqual(len(question_net(many, (finding(many, 23, 1),), (0, 5)).things), 2)
+
+    def test_just_so_many(self):
+        for counts in (FULL, FULL[:-1] + (3,)):
+            parents = free_net(counts[:-1])
+            rows = (((1, counts[-1]),) * counts[-1],) * 10 ** 4
+            net = Net(parents.things + (("child", counts[-1], tuple(range(8)), rows),))
+            if counts == FULL:
+                self.assertEqual(told_net(net, ()).things[8][2], tuple(range(8)))
+            else:
+                self.refused("size", told_net, net, ())
 
     def test_size_of_lots(self):
         # What net_of_lot refuses for the net behind the news is refused here, too.

@@ -9,7 +9,7 @@ from allworlds.errors import InvalidNumber
 from allworlds.nets import Net, counts_of
 from allworlds.plans import best_looks, best_plan, check_costs, is_plan, plan_worth
 from allworlds.tables import Table
-from tests.cases import NO_WORLD, SURE, ErrorCase, chain_net_of, wide_net
+from tests.cases import FULL, NO_WORLD, SURE, ErrorCase, chain_net_of, free_net, wide_net
 from tests.drawn import NO_INTEGERS, NO_TUPLES, Odd, all_worlds, drawn, nest, pair_of, plain, plain_weight
 from tests.test_choices import ACTS, NET, draw_choice, plain_rows, worth_in
 
@@ -134,7 +134,7 @@ class TestPlans(ErrorCase):
         wrong = NO_TUPLES + ((), ("act",), ("act", 2), ("act", -1), ("act", True), ("act", 0, 0), ("look", 1), ("look", 1, ()),
                              ("look", 1, (act,)), ("look", 1, (act, act, act)), ("look", 1, [act, act]), ("look", 0, (act, act)),
                              ("look", 2, (act, act)), ("look", True, (act, act)), ("look", -1, (act, act)), (Odd(), 1), ("acts", 1),
-                             ("look", 1, (look, act)), ("look", 1, (act, ("act", 7))), ("look", 1, (act, act), 1), nest(100000))
+                             ("seek", 1, (act, act)), ("look", 1, (look, act)), ("look", 1, (act, ("act", 7))), ("look", 1, (act, act), 1), nest(100000))
         for value in wrong:
             self.assertIs(is_plan(NET, ACTS, costs, value), False)
             self.assertIs(is_plan(NET, ACTS, costs, ("look", 1, (act, value))), False)
@@ -201,6 +201,14 @@ class TestPlans(ErrorCase):
         self.refused("size", best_plan, net, (), ONE_ACT, free[:6] + (None,) * 9, 4)
         self.refused("size", best_plan, net, (), ONE_ACT, free[:6] + (None,) * 9, 10 ** 30)
         self.assertEqual(best_plan(net, (), ONE_ACT, free[:3] + (None,) * 12, 10 ** 30)[0], (1, 1))
+
+    def test_just_so_many(self):
+        # Seven things with 2,000 fillings, and nine with 20,000.
+        small = (5, 5, 5, 2, 2, 2, 2)
+        self.assertEqual(best_plan(free_net(small), (), ONE_ACT, ((0, 1),) * 7, 1)[0], (1, 1))
+        self.refused("size", best_plan, free_net(small[:-1] + (3,)), (), ONE_ACT, ((0, 1),) * 7, 1)
+        self.assertEqual(best_looks(free_net(FULL), (), ONE_ACT, ((1, 1),) * 9, 9)[1], ())
+        self.refused("size", best_looks, free_net(FULL[:-1] + (3,)), (), ONE_ACT, ((1, 1),) * 9, 9)
 
     def test_far_apart(self):
         net = chain_net_of(24)

@@ -13,7 +13,7 @@ from allworlds.reasons import is_reason_paper
 from allworlds.runs import run_commands, run_script, run_with_papers, show_result
 from allworlds.scripts import is_command, read_script
 from allworlds.turns import is_turn_paper
-from tests.cases import HALF, SURE, ErrorCase, chain_net_of, wide_net
+from tests.cases import FULL, HALF, SURE, ErrorCase, chain_net_of, free_net, wide_net
 from tests.drawn import NO_TUPLES, draw_claim, draw_net, draw_row, draw_weights, drawn, pair_of, plain
 from tests.questions import changes, plain_reasons, turning_fillings
 
@@ -178,6 +178,11 @@ class TestRuns(ErrorCase):
         # Weights of 2 and 0 are not those of a finding, though they tell as much.
         news = (("put", 1, ((2, 1), (0, 1))), ("why", (1, 2), small), ("take", 1), ("why", (1, 2), small))
         self.assertEqual(run_commands(net, news), (("ok",), ("refused", "weights"), ("ok",), ("reason", ())))
+
+    def test_just_so_many(self):
+        claim = ("and",) + tuple(("is", thing, (0,)) for thing in range(9))
+        self.assertEqual(run_commands(free_net(FULL), (("share", claim),)), (("share", (1, 20000)),))
+        self.assertEqual(run_commands(free_net(FULL[:-1] + (3,)), (("share", claim),)), (("refused", "size"),))
 
     def test_back(self):
         rows = (((1, 1), (0, 1)),)
