@@ -52,8 +52,13 @@ class TestHeavy(ErrorCase):
                 self.refused("barred", place_of_world, net, news, world, most)
                 continue
             ranking = shared_ranking(net, news, tuple(range(len(net.things))))
-            if rng.random() < 0.5:
+            kind = rng.randrange(4)
+            if kind == 0:
                 bar = rng.choice(ranking)[0]
+            elif kind < 3:
+                # The sum of a beginning, or a little more or less.
+                some = sum(plain(share) for share, _ in ranking[:rng.randint(1, len(ranking))])
+                bar = pair_of(min(Fraction(1), some + rng.choice((0, 1, -1)) * Fraction(1, 10 ** 9)))
             due = [placed for placed in ranking if plain(placed[0]) >= plain(bar)]
             self.told(most, due, worlds_from, net, news, bar, most)
             due, whole = [], Fraction(0)
