@@ -35,14 +35,41 @@ def whole_margins(net, claim, bar):
 
 def aligned(counts, order, entries, other):
     """The order of two tables, with new things behind, and the entries of both for all its fillings."""
-    things, beside = other
-    new = tuple([thing for thing in things if thing not in order])
-    grown = order + new
-    places = places_by(grown, at_places(counts, grown), steps_by(things, at_places(counts, things)))
+    new = tuple([thing for thing in other[0] if thing not in order])
     many = fill_count(at_places(counts, new))
     if many > 1:
         entries = [entry for entry in entries for _ in range(many)]
-    return (grown, entries, [beside[place] for place in places])
+    return (order + new, entries, spread_over(counts, order + new, other))
+
+
+def spread_over(counts, order, table):
+    """The entries of a table for all fillings of things in an order, among them its own."""
+    own = tuple([thing for thing in order if thing in table[0]])
+    # From the last thing on, blocks of entries are repeated or put together.
+    blocks = [[entry] for entry in in_order(counts, own, table)]
+    for thing in reversed(order):
+        if thing in own:
+            blocks = merged_blocks(blocks, counts[thing])
+        else:
+            blocks = [block * counts[thing] for block in blocks]
+    return blocks[0]
+
+
+def merged_blocks(blocks, count):
+    """Each so many blocks after one another put together."""
+    merged = blocks[::count]
+    for case in range(1, count):
+        merged = [one + other for one, other in zip(merged, blocks[case::count])]
+    return merged
+
+
+def in_order(counts, order, table):
+    """The entries of a table with its things in another order."""
+    things, entries = table
+    if things == order:
+        return entries
+    places = places_by(order, at_places(counts, order), steps_by(things, at_places(counts, things)))
+    return [entries[place] for place in places]
 
 
 def having(tables, thing):
@@ -55,10 +82,18 @@ def lacking(tables, thing):
     return [table for table in tables if thing not in table[0]]
 
 
+def led_by(counts, thing, table):
+    """A table with one of its things first in its order."""
+    led = (thing,) + tuple([other for other in table[0] if other != thing])
+    return (led, in_order(counts, led, table))
+
+
 def product_behind(counts, thing, tables):
-    """The product of some tables, with a thing first."""
-    order, entries = (thing,), [1] * counts[thing]
-    for table in tables:
+    """The product of some tables that have a thing, with this one first."""
+    if not tables:
+        return ((thing,), [1] * counts[thing])
+    order, entries = led_by(counts, thing, tables[0])
+    for table in tables[1:]:
         order, entries, beside = aligned(counts, order, entries, table)
         entries = [one * other for one, other in zip(entries, beside)]
     return (order, entries)
@@ -153,8 +188,9 @@ def turning_tables(tables, margins):
 
 def cheapest_out_of(counts, tables, thing):
     """Tables of costs with a thing left out by least sums."""
-    order, entries = (thing,), [0] * counts[thing]
-    for table in having(tables, thing):
+    taken = having(tables, thing)
+    order, entries = led_by(counts, thing, taken[0])
+    for table in taken[1:]:
         order, entries, beside = aligned(counts, order, entries, table)
         entries = [one + other for one, other in zip(entries, beside)]
     return lacking(tables, thing) + [(order[1:], least_by_case(entries, counts[thing]))]
@@ -162,8 +198,9 @@ def cheapest_out_of(counts, tables, thing):
 
 def opened_out_of(counts, tables, thing, found, mask):
     """Tables of bits with a thing left out: at the case found, or for the bits of a mask at any one."""
-    order, entries = (thing,), [-1] * counts[thing]
-    for table in having(tables, thing):
+    taken = having(tables, thing)
+    order, entries = led_by(counts, thing, taken[0])
+    for table in taken[1:]:
         order, entries, beside = aligned(counts, order, entries, table)
         entries = [one & other for one, other in zip(entries, beside)]
     pieces = by_case(entries, counts[thing])
