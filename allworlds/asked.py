@@ -65,6 +65,7 @@ class Asked:
 
     def least_cost(self, costs, fixed):
         """The least cost of a filling with the cases of a dict that turns the answer, or None if none does."""
+        # What turns nothing costs more than all changes together.
         never = sum(list(costs.values())) + 1
         tables = [(order, [0 if bit else never for bit in bits]) for order, bits in self.turning]
         tables = tables + [
