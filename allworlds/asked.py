@@ -8,16 +8,19 @@ left tell the margin of each filling, and which fillings turn the answer.
 from allworlds.errors import Refused
 from allworlds.nets import counts_of
 from allworlds.numbers import fraction_of
+from allworlds.parts import first_parts, left_out_of
 from allworlds.sequences import cost_by, greedy_sequence
 from allworlds.wholes import (
-    cheapest_out_of, least_out_of, opened_out_of, product_of_last, summed_out_of, table_at, turning_tables,
-    weighed_pair, whole_margins, whole_tables,
+    cheapest_out_of, least_out_of, opened_out_of, over_one_bottom, product_of_last, summed_out_of, table_at,
+    turning_tables, weighed_pair, whole_margins, whole_tables,
 )
 from allworlds.widths import MOST_LEFT, free_first, least_sequence
 from allworlds.worlds import MOST
 
 # For no more told things all their lots are looked at together, each a bit of one number.
 MOST_TOGETHER = 12
+# Over a longer bottom the tops are so long that fractions are quicker.
+MOST_BITS = 16384
 
 
 class Asked:
@@ -28,13 +31,7 @@ class Asked:
         self.counts = counts_of(net)
         self.found = {thing: case for thing, case in findings}
         self.told = tuple([thing for thing, _ in findings])
-        tables, bottom = whole_tables(net)
-        self.bottoms = (bottom * bar[1], bottom)
-        order, margins = whole_margins(net, claim, bar)
-        left = (order, margins, [1] * len(margins))
-        scopes = [table[0] for table in tables] + [order]
-        for thing in easy_sequence(self.counts, scopes, things_untold(net, self.found)):
-            tables, left = summed_out_of(self.counts, tables, left, thing)
+        tables, left, self.bottoms = untold_out(net, claim, bar, things_untold(net, self.found))
         self.tables = tables
         self.margins = (left[0], list(zip(left[1], left[2])))
         self.sequence = easy_sequence(self.counts, [table[0] for table in tables] + [left[0]], self.told)
@@ -154,6 +151,37 @@ class Asked:
 def things_untold(net, found):
     """The lot of the things that are not told."""
     return tuple([thing for thing in range(len(net.things)) if thing not in found])
+
+
+def untold_out(net, claim, bar, lot):
+    """The tables, and those of the margins, without the things of a lot, and the bottoms of both parts of margins."""
+    counts = counts_of(net)
+    tables, bottom = whole_tables(net)
+    if bottom.bit_length() > MOST_BITS:
+        return untold_out_by_fractions(net, claim, bar, lot)
+    order, margins = whole_margins(net, claim, bar)
+    left = (order, margins, [1] * len(margins))
+    for thing in easy_sequence(counts, [table[0] for table in tables] + [order], lot):
+        tables, left = summed_out_of(counts, tables, left, thing)
+    return (tables, left, (bottom * bar[1], bottom))
+
+
+def untold_out_by_fractions(net, claim, bar, lot):
+    """What `untold_out` tells, with one bottom only for what is left."""
+    counts = counts_of(net)
+    parts = first_parts(net, claim, bar, True, {})
+    for thing in easy_sequence(counts, [part[1] for part in parts], lot):
+        parts = left_out_of(counts, parts, thing, False)
+    tables, bottom = [], 1
+    for part in parts:
+        if part[0] == "plain":
+            tops, common = over_one_bottom(part[2])
+            tables.append((part[1], tops))
+            bottom = bottom * common
+    order, margins = [part[1:] for part in parts if part[0] == "margin"][0]
+    firsts, one = over_one_bottom([first for first, _ in margins])
+    seconds, other = over_one_bottom([second for _, second in margins])
+    return (tables, (order, firsts, seconds), (bottom * one, bottom * other))
 
 
 def easy_sequence(counts, scopes, lot):

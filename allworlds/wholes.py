@@ -18,10 +18,16 @@ def whole_tables(net):
     bottom = 1
     for thing in range(len(net.things)):
         table = table_of(net, thing)
-        common = common_bottom(table.entries)
-        tables.append((table.things, tops_over(table.entries, common)))
+        tops, common = over_one_bottom(table.entries)
+        tables.append((table.things, tops))
         bottom = bottom * common
     return (tables, bottom)
+
+
+def over_one_bottom(fractions):
+    """The tops of fractions over the least common bottom, and this one."""
+    common = common_bottom(fractions)
+    return (tops_over(fractions, common), common)
 
 
 def whole_margins(net, claim, bar):

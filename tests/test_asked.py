@@ -2,6 +2,7 @@
 
 import unittest
 from itertools import combinations
+from unittest.mock import patch
 
 from allworlds.asked import Asked, easy_sequence, lots_with
 from allworlds.fillings import filling_number, fillings_of
@@ -118,6 +119,20 @@ class TestTogether(unittest.TestCase):
             for lot in lots_of(asked.told):
                 alone = asked.turned_by(1, {thing: int(thing not in lot) for thing in asked.told})
                 self.assertEqual((asked.has_reason(lot), alone), (lot in reasons, int(lot not in reasons)))
+
+    def test_long_bottoms(self):
+        # Where a bottom would be long, things are left out by fractions; nothing else changes.
+        for rng in drawn(100, 213):
+            net, question = draw_asked(rng)
+            asked = Asked(net, question)
+            with patch("allworlds.asked.MOST_BITS", 0):
+                other = Asked(net, question)
+            self.assertEqual((asked.answer, asked.turned_lots()), (other.answer, other.turned_lots()))
+            for filling in fillings_of([asked.counts[thing] for thing in asked.told]):
+                cases = dict(zip(asked.told, filling))
+                self.assertEqual(asked.margin_at(cases), other.margin_at(cases))
+            for lot in lots_of(asked.told):
+                self.assertEqual(asked.margin_at(asked.found_at(lot)), other.margin_at(other.found_at(lot)))
 
     def test_many(self):
         # With so many findings each lot is looked at alone.
