@@ -61,10 +61,11 @@ def net_of_lot(net, lot):
     """Some net of the things of a lot in which each world has the share of the filling."""
     if not lot:
         raise Refused("empty")
+    left = net
     for thing in reversed(range(len(net.things))):
         if thing not in lot:
-            net = without_thing(net, thing)
-    return net
+            left = without_thing(left, thing)
+    return left
 
 
 def told_net(net, news):
