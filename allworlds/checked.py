@@ -19,6 +19,8 @@ from allworlds.turns import changes_in, is_turn_paper
 
 # How many items a statement with each word has.
 ITEMS = {"paper": 4, "worlds": 5, "reason": 4, "turn": 5, "answer": 6, "run": 4}
+# What is told of each command that asks for more than the total, if that is 0.
+BARRED = ("refused", "barred")
 
 
 def is_same(value, due):
@@ -62,7 +64,7 @@ def is_shown(net, news, command, result, paper):
     if refusal is not None:
         return paper is None and is_same(result, ("refused", refusal))
     word = command[0]
-    if word != "total" and is_same(result, ("refused", "barred")):
+    if word != "total" and is_same(result, BARRED):
         return is_paper(net, news, paper) and total_in(paper)[0] == 0
     if word == "best":
         return are_worlds_shown(net, news, command[1], result, paper)
@@ -72,13 +74,13 @@ def is_shown(net, news, command, result, paper):
 
 
 def told_by_paper(net, news, command, paper):
-    """What a right paper of news tells of a command, or None for what the total bars."""
+    """The result of a command about the total or shares that a right paper of news shows."""
     word = command[0]
     total = total_in(paper)
     if word == "total":
         return ("total", total)
     if total[0] == 0:
-        return None
+        return BARRED
     if word == "shares":
         return ("shares", shares_at(net, news, paper, command[1]))
     if word == "share":

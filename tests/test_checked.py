@@ -199,6 +199,11 @@ class TestRuns(unittest.TestCase):
             for value in ((("refused", word), answers[2][1]), (barred, answers[2][1]), (("refused", "weights" if at == 0 else "size"), None),
                           (["refused", word], None), (("refused", word), ())):
                 self.wrong(at, value, net, commands, answers)
+        # Where no world is left, there is nothing in place of the refusal.
+        for value in NO_TUPLES + ((), ("refused",), ("refused", None), ("refused", Odd()), [*barred], barred + (None,), (barred, None)):
+            for at in range(2, 8):
+                self.wrong(at, (value, answers[at][1]), net, commands, answers)
+                self.assertFalse(is_so(("answer", net, (commands[1][1:],), commands[at], value, answers[at][1])))
         # The total itself is never refused.
         self.wrong(0, (barred, answers[2][1]), net, (("total",),), run_with_papers(net, (("total",),)))
         paper = paper_of(SURE, NO_WORLD)
