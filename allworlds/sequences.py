@@ -93,12 +93,18 @@ def settled_sequence(scopes, sequence):
 
 def greedy_sequence(counts, scopes, lot):
     """The sequence that takes each time the least thing with a cluster of the least size."""
+    clusters = {thing: joined_scopes(scopes, thing) for thing in lot}
+    sizes = {thing: lot_size(counts, clusters[thing]) for thing in lot}
     sequence = []
-    left = list(lot)
-    while left:
-        sizes = [(lot_size(counts, joined_scopes(scopes, thing)), thing) for thing in left]
-        thing = min(sizes)[1]
+    while sizes:
+        thing = min([(size, other) for other, size in sizes.items()])[1]
         sequence.append(thing)
-        left.remove(thing)
-        scopes = left_out(scopes, thing)
+        del sizes[thing]
+        cluster = clusters[thing]
+        # Leaving it out changes no clusters but those of the things in its own one.
+        for other in cluster:
+            if other in sizes:
+                tied = sorted(set(clusters[other] + cluster))
+                clusters[other] = tuple([one for one in tied if one != thing])
+                sizes[other] = lot_size(counts, clusters[other])
     return tuple(sequence)
