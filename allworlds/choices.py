@@ -1,13 +1,12 @@
 """Choices between acts, and what looks at things before them are worth."""
 
-from allworlds.eliminating import eliminated, tables_by, things_but
 from allworlds.errors import InvalidTable, Refused
 from allworlds.fillings import fillings_of
 from allworlds.kinds import is_lot_below
+from allworlds.looks import look_sums, sums_of_each, things_of_acts
 from allworlds.nets import counts_of
 from allworlds.numbers import divided, greatest_of, is_less, taken, total_of_all
-from allworlds.sequences import greedy_sequence, lot_size
-from allworlds.sums import product_of, widened
+from allworlds.sequences import lot_size
 from allworlds.tables import counts_in, is_table
 from allworlds.worlds import MOST
 
@@ -28,23 +27,6 @@ def is_act(net, value):
     return value.counts == counts_in(net, value.things)
 
 
-def sums_to_lot(net, tables, lot):
-    """For each filling of a lot the sum, over all others, of the products of tables."""
-    scopes = tuple([table.things for table in tables])
-    left = eliminated(tables, greedy_sequence(counts_of(net), scopes, things_but(net, lot)))
-    return widened(product_of(left), lot, counts_in(net, lot)).entries
-
-
-def weights_for(net, news, acts, lot):
-    """The total, the weights of the fillings of a lot, and for each act the sums of weights times worths."""
-    tables = list(tables_by(net, news))
-    weights = sums_to_lot(net, tables, lot)
-    total = total_of_all(weights)
-    if total[0] == 0:
-        raise Refused("barred")
-    return (total, weights, [sums_to_lot(net, tables + [act], lot) for act in acts])
-
-
 def mean_worth(net, news, act):
     """The mean worth of an act by news."""
     return mean_worths(net, news, (act,))[0]
@@ -52,7 +34,7 @@ def mean_worth(net, news, act):
 
 def mean_worths(net, news, acts):
     """The mean worths of all acts by news."""
-    total, _, sums = weights_for(net, news, acts, ())
+    total, _, sums = look_sums(net, news, acts, ())
     return tuple([divided(column[0], total) for column in sums])
 
 
@@ -69,59 +51,78 @@ def refuse_wide(net, lot):
         raise Refused("size")
 
 
+def narrow_sums(net, news, acts, lot):
+    """What `look_sums` tells of a lot; raises Refused for one with too many fillings."""
+    refuse_wide(net, lot)
+    return look_sums(net, news, acts, lot)
+
+
+def sums_by_row(columns):
+    """For each filling the sums of all acts."""
+    return [[column[number] for column in columns] for number in range(len(columns[0]))]
+
+
 def look_rows(net, news, acts, lot):
     """For each filling of a lot its share, and for each act the sum of shares times worths."""
-    refuse_wide(net, lot)
-    total, weights, sums = weights_for(net, news, acts, lot)
+    total, weights, columns = narrow_sums(net, news, acts, lot)
     return tuple([
-        (divided(weight, total), tuple([divided(column[number], total) for column in sums]))
-        for number, weight in enumerate(weights)
+        (divided(weight, total), tuple([divided(entry, total) for entry in sums]))
+        for weight, sums in zip(weights, sums_by_row(columns))
     ])
 
 
 def acts_after(net, news, acts, lot):
     """For each filling of a lot the number of the first best act, or None for the share 0."""
-    rows = look_rows(net, news, acts, lot)
-    return tuple([None if share[0] == 0 else sums.index(greatest_of(sums)) for share, sums in rows])
+    _, weights, columns = narrow_sums(net, news, acts, lot)
+    return tuple([
+        None if weight[0] == 0 else sums.index(greatest_of(sums)) for weight, sums in zip(weights, sums_by_row(columns))
+    ])
 
 
-def worth_after(rows):
-    """The mean worth of the best acts after a look with such rows."""
-    return total_of_all([greatest_of(sums) for _, sums in rows])
+def worth_after(columns):
+    """The sum of the greatest sums of acts over all fillings."""
+    return total_of_all([greatest_of(sums) for sums in sums_by_row(columns)])
 
 
-def worths_before(rows):
-    """The mean worths of all acts by the rows of a look."""
-    return [total_of_all([sums[act] for _, sums in rows]) for act in range(len(rows[0][1]))]
+def worths_before(columns):
+    """For each act the sum over all fillings."""
+    return [total_of_all(column) for column in columns]
 
 
 def look_worth(net, news, acts, lot):
     """The mean worth of the best acts after a look at a lot."""
-    return worth_after(look_rows(net, news, acts, lot))
+    total, _, columns = narrow_sums(net, news, acts, lot)
+    return divided(worth_after(columns), total)
 
 
 def look_gain(net, news, acts, lot):
     """What a look at a lot is worth more than the best act without one."""
-    rows = look_rows(net, news, acts, lot)
-    return taken(worth_after(rows), greatest_of(worths_before(rows)))
+    total, _, columns = narrow_sums(net, news, acts, lot)
+    return divided(taken(worth_after(columns), greatest_of(worths_before(columns))), total)
 
 
 def full_worth(net, news, acts):
     """The worth of a look at all things of the acts' tables."""
-    return look_worth(net, news, acts, tuple(sorted(set([thing for act in acts for thing in act.things]))))
+    return look_worth(net, news, acts, things_of_acts(acts))
+
+
+def turning_numbers(columns):
+    """The indexes of the fillings in which some act has a greater sum than the one that is best without a look."""
+    worths = worths_before(columns)
+    best = columns[worths.index(greatest_of(worths))]
+    rows = sums_by_row(columns)
+    return [number for number, sums in enumerate(rows) if is_less(best[number], greatest_of(sums))]
 
 
 def turning_fillings(net, news, acts, lot):
     """The fillings of a lot in which some act has a greater sum than the one that is best without a look."""
-    rows = look_rows(net, news, acts, lot)
-    worths = worths_before(rows)
-    best = worths.index(greatest_of(worths))
-    turning = [is_less(sums[best], greatest_of(sums)) for _, sums in rows]
+    _, _, columns = narrow_sums(net, news, acts, lot)
     fillings = fillings_of(counts_in(net, lot))
-    return tuple([filling for filling, turns in zip(fillings, turning) if turns])
+    return tuple([fillings[number] for number in turning_numbers(columns)])
 
 
 def idle_things(net, news, acts):
     """The lot of the things at which a look alone gains nothing."""
     # A look gains something exactly if it can turn the act.
-    return tuple([thing for thing in range(len(net.things)) if not turning_fillings(net, news, acts, (thing,))])
+    columns = sums_of_each(net, news, acts)
+    return tuple([thing for thing, own in enumerate(columns) if not turning_numbers(own)])

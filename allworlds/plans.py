@@ -2,13 +2,15 @@
 
 from math import comb
 
-from allworlds.choices import refuse_wide, weights_for
+from allworlds.choices import refuse_wide
 from allworlds.eliminating import eliminated, tables_by, things_but
 from allworlds.errors import InvalidNumber, Refused
 from allworlds.fillings import fill_count
 from allworlds.kinds import is_below, is_number
+from allworlds.looks import fraction_sums, look_sums
 from allworlds.nets import counts_of
 from allworlds.numbers import divided, greatest_of, is_less, taken, timed, total_of_all
+from allworlds.plain import known_total
 from allworlds.rows import are_from_zero
 from allworlds.sequences import greedy_sequence, scopes_in
 from allworlds.sums import at_case, product_of, total_of, widened
@@ -53,7 +55,7 @@ def best_looks(net, news, acts, costs, most):
     check_looks(net, costs, most)
     things = things_with_costs(costs)
     refuse_looks(counts_in(net, things), most)
-    total, _, _ = weights_for(net, news, (), ())
+    total = known_total(fraction_sums(net, tables_by(net, news), ()))
     worths = {lot: divided(worth, total) for lot, worth in look_worths(net, news, acts, things, most)}
     best = ((0, 1), ())
     for lot in sorted(worths):
@@ -134,10 +136,13 @@ def things_of_plan(plan):
 
 
 def tables_over(net, news, acts, lot):
-    """The total, the table of the weights of a lot, and for each act that of the sums of weights times worths."""
-    total, weights, sums = weights_for(net, news, acts, lot)
+    """The total, the table of the weights of a lot, and for each act that of the sums of weights times worths.
+
+    All are told times one number above 0.
+    """
+    total, weights, sums = look_sums(net, news, acts, lot)
     counts = counts_in(net, lot)
-    return (total, Table(lot, counts, weights), [Table(lot, counts, column) for column in sums])
+    return (total, Table(lot, counts, tuple(weights)), [Table(lot, counts, tuple(column)) for column in sums])
 
 
 def tables_at(tables, thing, case):

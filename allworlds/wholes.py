@@ -5,11 +5,19 @@ for each filling of them in this order, ascending. All tables of a question
 stand over one bottom, so that only the tops are needed.
 """
 
+from math import lcm
+
 from allworlds.claims import holding_bits, things_of_claim
 from allworlds.fillings import at_places, fill_count, places_by, steps_by
-from allworlds.nets import counts_of
+from allworlds.nets import counts_of, family_of
 from allworlds.numbers import common_bottom, tops_over
-from allworlds.tables import table_of
+from allworlds.sequences import greedy_sequence, lot_size
+
+
+def entries_of(net, thing):
+    """The entries of the table of a thing's family."""
+    # The thing is the last of its family, so the rows follow one another.
+    return [fraction for row in net.things[thing][3] for fraction in row]
 
 
 def whole_tables(net):
@@ -17,11 +25,20 @@ def whole_tables(net):
     tables = []
     bottom = 1
     for thing in range(len(net.things)):
-        table = table_of(net, thing)
-        tops, common = over_one_bottom(table.entries)
-        tables.append((table.things, tops))
+        tops, common = over_one_bottom(entries_of(net, thing))
+        tables.append((family_of(net, thing), tops))
         bottom = bottom * common
     return (tables, bottom)
+
+
+def short_bottom(fractions, most):
+    """The least common bottom of fractions, or None if it has more bits than so many."""
+    common = 1
+    for bottom in sorted(set([below for _, below in fractions])):
+        common = lcm(common, bottom)
+        if common.bit_length() > most:
+            return None
+    return common
 
 
 def over_one_bottom(fractions):
@@ -148,6 +165,41 @@ def weighed_pair(pair, low, high):
     """The least margin in whole numbers times a number between two bounds."""
     factor = high if is_below_zero(pair) else low
     return (pair[0] * factor, pair[1] * factor)
+
+
+def product_of_wholes(counts, tables):
+    """The product of some tables, each new thing behind those before."""
+    order, entries = (), [1]
+    for table in tables:
+        order, entries, beside = aligned(counts, order, entries, table)
+        entries = [one * other for one, other in zip(entries, beside)]
+    return (order, entries)
+
+
+def sums_of_pieces(entries, many):
+    """The sums of so many equally long pieces that follow one another."""
+    return entries if len(entries) == many else [sum(piece) for piece in by_case(entries, many)]
+
+
+def sums_by_filling(counts, tables, lot):
+    """For each filling of a lot the sum, over all other things of some tables, of their products."""
+    scopes = tuple([order for order, _ in tables])
+    others = sorted(set([thing for scope in scopes for thing in scope if thing not in lot]))
+    for thing in greedy_sequence(counts, scopes, others):
+        tables = summed_tables(counts, tables, thing)
+    entries = [1] * lot_size(counts, lot)
+    for table in tables:
+        entries = [one * other for one, other in zip(entries, spread_over(counts, lot, table))]
+    return entries
+
+
+def sums_by_thing(counts, order, entries):
+    """For each thing of an order the sums of the entries at its cases."""
+    found = []
+    for thing in order:
+        found.append(sums_of_pieces(entries, counts[thing]))
+        entries = sums_by_case(entries, counts[thing])
+    return found
 
 
 def product_of_last(tables):
